@@ -1,4 +1,4 @@
-package expr
+package grammar
 
 import (
 	"justiciar/api"

@@ -1,4 +1,4 @@
-package expr
+package grammar
 
 import (
 	"slices"
@@ -10,18 +10,18 @@ import (
 
 // How much there may be.
 const (
-	maxNodes   = 2000 // expressions, queries and sources of an expression
+	maxNodes   = 2000 // expressions, queries, sources and changes of a whole
 	maxSources = 20   // of a query
 	maxKeys    = 10   // by which a query groups, or orders
 )
 
-// Valid reports whether an expression is valid.
-func Valid(e api.Expr) bool { return flaw(&e) == api.OK }
+// Valid reports whether a node, as a whole, is valid.
+func Valid(n Node) bool { return flaw(n) == api.OK }
 
-// flaw returns ErrLimit, if an expression has too many nodes, or one that is not right, or else ErrDeep, if it has too many levels.
-func flaw(e *api.Expr) api.Errno {
+// flaw returns ErrLimit, if a whole has too many nodes, or one that is not right, or else ErrDeep, if it has too many levels.
+func flaw(whole Node) api.Errno {
 	count, deep := 0, false
-	for n := range nodes(e) {
+	for n := range nodes(whole) {
 		count++
 		if count > maxNodes || !n.right() {
 			return api.ErrLimit
@@ -35,14 +35,18 @@ func flaw(e *api.Expr) api.Errno {
 }
 
 // right reports whether a node is as it should be, whatever the nodes within it are.
-func (n node) right() bool {
+func (n Node) right() bool {
 	switch {
-	case n.expr != nil:
-		return isPosition(n.expr.Line, n.expr.Col) && rightKids(n.expr.Op, len(n.expr.Kids)) && rightFields(*n.expr)
-	case n.source != nil:
-		return isPosition(n.source.Line, n.source.Col) && rightSource(n.source)
+	case n.Expr != nil:
+		return isPosition(n.Expr.Line, n.Expr.Col) && rightKids(n.Expr.Op, len(n.Expr.Kids)) && rightFields(*n.Expr)
+	case n.Query != nil:
+		return isPosition(n.Query.Line, n.Query.Col) && rightQuery(n.Query)
+	case n.Source != nil:
+		return isPosition(n.Source.Line, n.Source.Col) && rightSource(n.Source)
+	case n.Change != nil:
+		return isPosition(n.Change.Line, n.Change.Col) && rightChange(n.Change)
 	}
-	return isPosition(n.query.Line, n.query.Col) && rightQuery(n.query)
+	return false
 }
 
 func isPosition(line, col int) bool {
@@ -88,7 +92,7 @@ func rightFields(e api.Expr) bool {
 		ok = isPath(e.Path, 3) || isOnly(e.Path, "count")
 		e.Path = nil
 	case api.EQuery, api.EExists:
-		ok = len(e.Query) == 1 && !e.Query[0].Lock
+		ok = isInner(e.Query)
 		e.Query = nil
 	case api.EMark:
 		ok = (isPath(e.Path, 1) || isOnly(e.Path, "sql")) && slices.Contains(marks(), e.Text)
@@ -98,7 +102,7 @@ func rightFields(e api.Expr) bool {
 		return false
 	}
 	e.Kids = nil
-	return ok && Same(e, api.Expr{Op: e.Op})
+	return ok && SameExpr(e, api.Expr{Op: e.Op})
 }
 
 func rightQuery(q *api.Query) bool {
@@ -113,10 +117,32 @@ func rightSource(s *api.Source) bool {
 	return isPath(s.Path, 2) && len(s.AsOf) <= 1 && (s.As == "" || lex.Name(s.As))
 }
 
+func rightChange(x *api.Change) bool {
+	return isPath(x.Path, 2) && len(x.Cols) <= api.MaxCols && each(x.Cols, isName) && len(x.Vals) <= api.MaxCols && len(x.Where) <= 1 && rightParts(x)
+}
+
+// rightParts reports whether a change has the parts that its Op wants, and no others.
+func rightParts(x *api.Change) bool {
+	switch x.Op {
+	case api.CInsert:
+		return len(x.Where) == 0 && (len(x.Vals) > 0 && len(x.Query) == 0 || len(x.Vals) == 0 && isInner(x.Query))
+	case api.CUpdate:
+		return len(x.Cols) > 0 && len(x.Vals) == len(x.Cols) && len(x.Query) == 0
+	case api.CDelete:
+		return len(x.Cols) == 0 && len(x.Vals) == 0 && len(x.Query) == 0
+	}
+	return false
+}
+
 // isPath reports whether a path is names, one at least.
 func isPath(path []string, most int) bool {
-	return 1 <= len(path) && len(path) <= most && each(path, func(s *string) bool { return lex.Name(*s) })
+	return 1 <= len(path) && len(path) <= most && each(path, isName)
 }
+
+func isName(s *string) bool { return lex.Name(*s) }
+
+// isInner reports whether queries are just one, as it may stand within something else.
+func isInner(l []api.Query) bool { return len(l) == 1 && !l[0].Lock }
 
 // isOfRow reports whether a path is that of a column of one of the rows that a trigger has.
 func isOfRow(path []string) bool {

@@ -1,4 +1,4 @@
-package expr
+package grammar
 
 import "justiciar/api"
 
@@ -7,6 +7,16 @@ func (r *reader) subquery() []api.Query {
 	q := r.query()
 	r.want(")")
 	return []api.Query{q}
+}
+
+// outerQuery reads a query that is within nothing else, and therefore may be for update.
+func (r *reader) outerQuery() api.Query {
+	q := r.query()
+	q.Lock = r.take("for")
+	if q.Lock {
+		r.want("update")
+	}
+	return q
 }
 
 func (r *reader) query() api.Query {

@@ -1,4 +1,4 @@
-package expr
+package grammar
 
 import "justiciar/api"
 
@@ -22,6 +22,7 @@ func (w *writer) query(q api.Query) {
 	w.clause("having", q.Having)
 	w.putIf(len(q.Order) > 0, "order", "by")
 	writeList(w, q.Order, w.order)
+	w.putIf(q.Lock, "for", "update")
 }
 
 func (w *writer) item(x api.Item) {

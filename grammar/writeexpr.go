@@ -1,4 +1,4 @@
-package expr
+package grammar
 
 import (
 	"justiciar/api"
@@ -41,6 +41,20 @@ func writeList[T any](w *writer, l []T, write func(x T)) {
 	for i, x := range l {
 		w.putIf(i > 0, ",")
 		write(x)
+	}
+}
+
+// node writes a node of any kind.
+func (w *writer) node(n Node) {
+	switch {
+	case n.Expr != nil:
+		w.expr(*n.Expr)
+	case n.Query != nil:
+		w.query(*n.Query)
+	case n.Source != nil:
+		w.source(*n.Source)
+	case n.Change != nil:
+		w.change(*n.Change)
 	}
 }
 

@@ -1,0 +1,58 @@
+package grammar
+
+import (
+	"iter"
+
+	"justiciar/api"
+)
+
+// Node is an expression, a query, a source or a change: just one of them is not nil.
+type Node struct {
+	Expr   *api.Expr
+	Query  *api.Query
+	Source *api.Source
+	Change *api.Change
+	level  int // that of the whole is 1
+}
+
+// nodes ranges over a whole node and all nodes within it, in the order in which they stand, but each ahead of those within it.
+func nodes(whole Node) iter.Seq[Node] {
+	whole.level = 1
+	return func(yield func(Node) bool) { whole.visit(yield) }
+}
+
+// visit yields a node and all nodes within it, and reports whether more are wanted.
+func (n Node) visit(yield func(Node) bool) bool {
+	if !yield(n) {
+		return false
+	}
+	in := n.level + 1
+	expr := func(e *api.Expr) bool { return Node{Expr: e, level: in}.visit(yield) }
+	query := func(q *api.Query) bool { return Node{Query: q, level: in}.visit(yield) }
+	source := func(s *api.Source) bool { return Node{Source: s, level: in}.visit(yield) }
+	item := func(x *api.Item) bool { return expr(&x.Expr) }
+	order := func(o *api.Order) bool { return expr(&o.Expr) }
+	switch {
+	case n.Expr != nil:
+		return each(n.Expr.Kids, expr) && each(n.Expr.Query, query)
+	case n.Query != nil:
+		q := n.Query
+		return each(q.List, item) && each(q.From, source) && each(q.Where, expr) &&
+			each(q.Group, expr) && each(q.Having, expr) && each(q.Order, order)
+	case n.Source != nil:
+		return each(n.Source.AsOf, expr)
+	case n.Change != nil:
+		return each(n.Change.Vals, expr) && each(n.Change.Query, query) && each(n.Change.Where, expr)
+	}
+	return true
+}
+
+// each reports whether all elements of a list are as a closure wants; it goes no further than to the first that is not.
+func each[T any](l []T, wanted func(x *T) bool) bool {
+	for i := range l {
+		if !wanted(&l[i]) {
+			return false
+		}
+	}
+	return true
+}
