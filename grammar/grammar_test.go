@@ -10,6 +10,7 @@ import (
 	"justiciar/expr"
 	"justiciar/lex"
 	"justiciar/query"
+	"justiciar/unit"
 )
 
 // grammar is the document's, as far as expressions, queries and changes reach: with the lengths of paths, the arguments of count, and for update at the outside (whole) alone.
@@ -53,7 +54,7 @@ type part struct {
 // rules reads the grammar.
 func rules() map[string]*part {
 	all := map[string]*part{}
-	words := strings.Fields(grammar)
+	words := strings.Fields(grammar + programs)
 	for i, word := range words {
 		if word == "=" {
 			end := len(words)
@@ -124,6 +125,9 @@ func (m *matcher) ends(p *part, from int) []int {
 			return t.Text == p.text && (t.Kind == api.TokWord || t.Kind == api.TokSign)
 		})
 	case 'a':
+		if p.text == noQuery {
+			return m.unlessQuery(from)
+		}
 		if kind := kindOf(p.text); kind != 0 {
 			return m.end(from, func(t api.Token) bool { return t.Kind == kind })
 		}
@@ -216,6 +220,16 @@ func faultOf(rules map[string]*part, rule, s string, tokens []api.Token) api.Fau
 // parse returns the fault that a layer's Parse finds in what should be by a rule, and whether its result is valid.
 func parse(rule, s string) (api.Fault, bool) {
 	switch rule {
+	case "block":
+		b, f := unit.ParseBlock(s)
+		return f, f.Code == api.OK && unit.ValidBlock(b)
+	case "def":
+		d, f := unit.ParseDef(s)
+		return f, unit.ValidDef(d)
+	case "script":
+		l, f := unit.Parse(s)
+		_, code := unit.Text(l)
+		return f, f.Code == api.OK && code == api.OK
 	case "expr":
 		e, f := expr.Parse(s)
 		return f, expr.Valid(e)
@@ -227,17 +241,23 @@ func parse(rule, s string) (api.Fault, bool) {
 	return f, query.ValidChange(x)
 }
 
+// isFlawed reports whether a string may be of the form, but not valid.
+func isFlawed(s string) bool {
+	return strings.Contains(s, "case end") || strings.Contains(s, "case else") || strings.Contains(s, "create")
+}
+
 // comparer compares what Parse says with what a rule does.
 type comparer struct {
 	*testing.T
 	rules map[string]*part
 	rule  string
-	read  int // how many strings were without faults
+	words []string // what is put beside what is compared
+	read  int      // how many strings were without faults
 }
 
 func newComparer(t *testing.T, rule string) *comparer {
 	t.Parallel()
-	return &comparer{T: t, rules: rules(), rule: rule}
+	return &comparer{T: t, rules: rules(), rule: rule, words: kinds()}
 }
 
 func (c *comparer) compare(words ...string) {
@@ -249,8 +269,8 @@ func (c *comparer) compare(words ...string) {
 	}
 	f, valid := parse(c.rule, s)
 	want := faultOf(c.rules, c.rule, s, tokens)
-	if f.Code == api.ErrLimit && want.Code == api.OK && (strings.Contains(s, "case end") || strings.Contains(s, "case else")) {
-		return // it is of the form, but not valid
+	if f.Code == api.ErrLimit && want.Code == api.OK && isFlawed(s) {
+		return
 	}
 	if f != want || f.Code == api.OK != valid {
 		c.Fatalf("%s: %v, want %v", s, f, want)
@@ -283,12 +303,12 @@ func (c *comparer) around(s string) {
 		before, behind := words[:i], words[i+1:]
 		c.compare(before...)
 		c.compare(slices.Concat(before, behind)...)
-		for _, word := range kinds() {
+		for _, word := range c.words {
 			c.compare(slices.Concat(before, []string{word}, behind)...)
 			c.compare(slices.Concat(before, []string{word}, words[i:])...)
 		}
 	}
-	for _, word := range kinds() {
+	for _, word := range c.words {
 		c.compare(append(slices.Clone(words), word)...)
 	}
 }

@@ -34,21 +34,21 @@ func (n Node) visit(yield func(Node) bool) bool {
 	order := func(o *api.Order) bool { return expr(&o.Expr) }
 	switch {
 	case n.Expr != nil:
-		return each(n.Expr.Kids, expr) && each(n.Expr.Query, query)
+		return Each(n.Expr.Kids, expr) && Each(n.Expr.Query, query)
 	case n.Query != nil:
 		q := n.Query
-		return each(q.List, item) && each(q.From, source) && each(q.Where, expr) &&
-			each(q.Group, expr) && each(q.Having, expr) && each(q.Order, order)
+		return Each(q.List, item) && Each(q.From, source) && Each(q.Where, expr) &&
+			Each(q.Group, expr) && Each(q.Having, expr) && Each(q.Order, order)
 	case n.Source != nil:
-		return each(n.Source.AsOf, expr)
+		return Each(n.Source.AsOf, expr)
 	case n.Change != nil:
-		return each(n.Change.Vals, expr) && each(n.Change.Query, query) && each(n.Change.Where, expr)
+		return Each(n.Change.Vals, expr) && Each(n.Change.Query, query) && Each(n.Change.Where, expr)
 	}
 	return true
 }
 
-// each reports whether all elements of a list are as a closure wants; it goes no further than to the first that is not.
-func each[T any](l []T, wanted func(x *T) bool) bool {
+// Each reports whether all elements of a list are as a closure wants; it goes no further than to the first that is not.
+func Each[T any](l []T, wanted func(x *T) bool) bool {
 	for i := range l {
 		if !wanted(&l[i]) {
 			return false

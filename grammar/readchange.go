@@ -2,42 +2,43 @@ package grammar
 
 import "justiciar/api"
 
-func (r *reader) change() api.Change {
-	t := r.want("insert", "update", "delete")
+// Change reads a change.
+func (r *Reader) Change() api.Change {
+	t := r.Want("insert", "update", "delete")
 	x := api.Change{Line: t.Line, Col: t.Col}
 	switch t.Text {
 	case "insert":
-		r.want("into")
-		x.Op, x.Path = api.CInsert, r.path(2)
+		r.Want("into")
+		x.Op, x.Path = api.CInsert, r.Path(2)
 		x.Cols = r.columns()
 		r.inserted(&x)
 	case "update":
-		x.Op, x.Path = api.CUpdate, r.path(2)
-		r.want("set")
+		x.Op, x.Path = api.CUpdate, r.Path(2)
+		r.Want("set")
 		r.settings(&x)
 		x.Where = r.perhaps("where")
 	case "delete":
-		r.want("from")
-		x.Op, x.Path = api.CDelete, r.path(2)
+		r.Want("from")
+		x.Op, x.Path = api.CDelete, r.Path(2)
 		x.Where = r.perhaps("where")
 	}
 	return x
 }
 
 // columns reads the columns of an insert, if it names any.
-func (r *reader) columns() []string {
-	if !r.take("(") {
+func (r *Reader) columns() []string {
+	if !r.Take("(") {
 		return nil
 	}
-	l := readList(r, r.name)
-	r.want(")")
+	l := ReadList(r, r.Name)
+	r.Want(")")
 	return l
 }
 
 // inserted reads the values, or the query, of an insert.
-func (r *reader) inserted(x *api.Change) {
-	if r.take("values") {
-		r.want("(")
+func (r *Reader) inserted(x *api.Change) {
+	if r.Take("values") {
+		r.Want("(")
 		x.Vals = r.exprs()
 		return
 	}
@@ -45,10 +46,10 @@ func (r *reader) inserted(x *api.Change) {
 }
 
 // settings reads the columns of an update, and what they are set to.
-func (r *reader) settings(x *api.Change) {
-	x.Vals = readList(r, func() api.Expr {
-		x.Cols = append(x.Cols, r.name())
-		r.want("=")
-		return r.expr()
+func (r *Reader) settings(x *api.Change) {
+	x.Vals = ReadList(r, func() api.Expr {
+		x.Cols = append(x.Cols, r.Name())
+		r.Want("=")
+		return r.Expr()
 	})
 }

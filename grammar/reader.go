@@ -1,42 +1,91 @@
 package grammar
 
 import (
+	"strings"
+
 	"justiciar/api"
 	"justiciar/lex"
 )
 
-// reader reads tokens up to the first fault. Then none is left, so that no rule of the grammar reads on.
-type reader struct {
+// Reader reads the tokens of a string up to the first fault. Then none is left, so that no rule of the grammar reads on.
+type Reader struct {
 	left  []api.Token
-	end   api.Fault // that there is no token where one is needed
+	end   api.Fault // that the string ends where a token is needed, or that layer 2 finds none there
 	fault api.Fault // the first one
 }
 
-// next returns the next token; the zero token, if none is left.
-func (r *reader) next() api.Token {
-	if len(r.left) == 0 {
-		return api.Token{}
+func newReader(s string) *Reader {
+	l, f := lex.Lex(s)
+	if f.Code == api.OK {
+		return &Reader{left: l, end: endOf(s)}
 	}
-	return r.left[0]
+	l, _ = lex.Lex(before(s, f.Line, f.Col))
+	return &Reader{left: l, end: f}
 }
 
-// skip goes behind the next token, which is there.
-func (r *reader) skip() { r.left = r.left[1:] }
+// endOf returns the fault that a string ends too early.
+func endOf(s string) api.Fault {
+	return api.Fault{Code: api.ErrEnd, Line: strings.Count(s, "\n") + 1, Col: len(s) - strings.LastIndexByte(s, '\n')}
+}
 
-// fail notes that the next token cannot stand where it does.
-func (r *reader) fail() {
+// before returns what stands before a position of a string; nothing, if it is no position.
+func before(s string, line, col int) string {
+	start := 0
+	for range line - 1 {
+		start += strings.IndexByte(s[start:], '\n') + 1
+	}
+	return s[:start+max(col-1, 0)]
+}
+
+// wantTokens wants layer 2 to read the whole string.
+func (r *Reader) wantTokens() {
+	if r.end.Code != api.ErrEnd {
+		r.note(r.end)
+	}
+}
+
+// note notes a fault, if it is the first one.
+func (r *Reader) note(f api.Fault) {
 	if r.fault.Code == api.OK {
-		r.fault = r.wrong()
+		r.fault = f
 	}
 	r.left = nil
 }
 
-func (r *reader) wrong() api.Fault {
-	if len(r.left) == 0 {
-		return r.end
+// More reports whether there is more to be read: tokens, or what is none.
+func (r *Reader) More() bool {
+	return len(r.left) > 0 || r.fault.Code == api.OK && r.end.Code != api.ErrEnd
+}
+
+// finish wants no more tokens.
+func (r *Reader) finish() {
+	if r.More() {
+		r.Fail()
 	}
-	t := r.next()
-	return api.Fault{Code: api.ErrSyntax, Name: nameOf(t), Line: t.Line, Col: t.Col}
+}
+
+// Next returns the next token; the zero token, if none is left.
+func (r *Reader) Next() api.Token { return r.behind(0) }
+
+// behind returns the token that stands behind so many others.
+func (r *Reader) behind(many int) api.Token {
+	if len(r.left) <= many {
+		return api.Token{}
+	}
+	return r.left[many]
+}
+
+// skip goes behind the next token, which is there.
+func (r *Reader) skip() { r.left = r.left[1:] }
+
+// Fail notes that the next token cannot stand where it does.
+func (r *Reader) Fail() {
+	t := r.Next()
+	if len(r.left) == 0 {
+		r.note(r.end)
+		return
+	}
+	r.note(api.Fault{Code: api.ErrSyntax, Name: nameOf(t), Line: t.Line, Col: t.Col})
 }
 
 // nameOf returns what a fault calls a token.
@@ -48,22 +97,33 @@ func nameOf(t api.Token) string {
 	return s
 }
 
-// finish wants no more tokens.
-func (r *reader) finish() {
-	if len(r.left) > 0 {
-		r.fail()
+// Refuse notes that what a token begins may not be.
+func (r *Reader) Refuse(first api.Token, code api.Errno) {
+	r.note(api.Fault{Code: code, Line: first.Line, Col: first.Col})
+}
+
+// Check refuses what a token begins, if that has been read without a fault and a closure finds an error in it.
+func (r *Reader) Check(first api.Token, flaw func() api.Errno) {
+	if r.fault.Code != api.OK {
+		return
+	}
+	if code := flaw(); code != api.OK {
+		r.Refuse(first, code)
 	}
 }
 
-// stands reports whether a word or sign comes next.
-func (r *reader) stands(s string) bool {
-	t := r.next()
+// Stands reports whether a word or sign comes next.
+func (r *Reader) Stands(s string) bool { return r.StandsBehind(0, s) }
+
+// StandsBehind reports whether a word or sign stands behind so many other tokens.
+func (r *Reader) StandsBehind(many int, s string) bool {
+	t := r.behind(many)
 	return (t.Kind == api.TokWord || t.Kind == api.TokSign) && t.Text == s
 }
 
-// take reads a word or sign, if it comes next.
-func (r *reader) take(s string) bool {
-	if !r.stands(s) {
+// Take reads a word or sign, if it comes next.
+func (r *Reader) Take(s string) bool {
+	if !r.Stands(s) {
 		return false
 	}
 	r.skip()
@@ -71,47 +131,60 @@ func (r *reader) take(s string) bool {
 }
 
 // takeOne reads one of some words and signs, if it comes next.
-func (r *reader) takeOne(l ...string) (api.Token, bool) {
-	t := r.next()
+func (r *Reader) takeOne(l ...string) (api.Token, bool) {
+	t := r.Next()
 	for _, s := range l {
-		if r.take(s) {
+		if r.Take(s) {
 			return t, true
 		}
 	}
 	return api.Token{}, false
 }
 
-// want reads one of some words and signs, which has to come next.
-func (r *reader) want(l ...string) api.Token {
+// Want reads one of some words and signs, which has to come next.
+func (r *Reader) Want(l ...string) api.Token {
 	t, ok := r.takeOne(l...)
 	if !ok {
-		r.fail()
+		r.Fail()
 	}
 	return t
 }
 
-func (r *reader) name() string {
-	t := r.next()
+// Name reads a name.
+func (r *Reader) Name() string {
+	t := r.Next()
 	if t.Kind != api.TokName {
-		r.fail()
+		r.Fail()
 		return ""
 	}
 	r.skip()
 	return t.Text
 }
 
-func (r *reader) path(most int) []string {
-	l := []string{r.name()}
-	for len(l) < most && r.take(".") {
-		l = append(l, r.name())
+// Integer reads an integer.
+func (r *Reader) Integer() int {
+	t := r.Next()
+	if t.Kind != api.TokInt {
+		r.Fail()
+		return 0
+	}
+	r.skip()
+	return t.N
+}
+
+// Path reads a path of a few names.
+func (r *Reader) Path(most int) []string {
+	l := []string{r.Name()}
+	for len(l) < most && r.Take(".") {
+		l = append(l, r.Name())
 	}
 	return l
 }
 
-// readList reads what a closure reads, once or more, with commas between.
-func readList[T any](r *reader, read func() T) []T {
+// ReadList reads what a closure reads, once or more, with commas between.
+func ReadList[T any](r *Reader, read func() T) []T {
 	l := []T{read()}
-	for r.take(",") {
+	for r.Take(",") {
 		l = append(l, read())
 	}
 	return l

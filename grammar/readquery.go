@@ -3,75 +3,98 @@ package grammar
 import "justiciar/api"
 
 // subquery reads a query, and the bracket behind it.
-func (r *reader) subquery() []api.Query {
+func (r *Reader) subquery() []api.Query {
 	q := r.query()
-	r.want(")")
+	r.Want(")")
 	return []api.Query{q}
 }
 
-// outerQuery reads a query that is within nothing else, and therefore may be for update.
-func (r *reader) outerQuery() api.Query {
+// Query reads a query that is within no other one, and therefore may be for update.
+func (r *Reader) Query() api.Query {
 	q := r.query()
-	q.Lock = r.take("for")
-	if q.Lock {
-		r.want("update")
-	}
+	q.Lock = r.forUpdate()
 	return q
 }
 
-func (r *reader) query() api.Query {
-	t := r.want("select")
-	q := api.Query{Line: t.Line, Col: t.Col}
-	q.Distinct = r.take("distinct")
-	q.Star = r.take("*")
+// QueryInto reads such a query, of items, with what a closure reads between these and its sources.
+func (r *Reader) QueryInto(into func()) api.Query {
+	q := r.begunQuery()
+	q.List = ReadList(r, r.item)
+	into()
+	r.restOf(&q)
+	q.Lock = r.forUpdate()
+	return q
+}
+
+func (r *Reader) query() api.Query {
+	q := r.begunQuery()
+	q.Star = r.Take("*")
 	if !q.Star {
-		q.List = readList(r, r.item)
+		q.List = ReadList(r, r.item)
 	}
-	r.want("from")
-	q.From = readList(r, r.source)
+	r.restOf(&q)
+	return q
+}
+
+func (r *Reader) begunQuery() api.Query {
+	t := r.Want("select")
+	return api.Query{Line: t.Line, Col: t.Col, Distinct: r.Take("distinct")}
+}
+
+// restOf reads the sources of a query, and what may stand behind them.
+func (r *Reader) restOf(q *api.Query) {
+	r.Want("from")
+	q.From = ReadList(r, r.source)
 	q.Where = r.perhaps("where")
-	if r.take("group") {
-		r.want("by")
-		q.Group = readList(r, r.expr)
+	if r.Take("group") {
+		r.Want("by")
+		q.Group = ReadList(r, r.Expr)
 	}
 	q.Having = r.perhaps("having")
-	if r.take("order") {
-		r.want("by")
-		q.Order = readList(r, r.order)
+	if r.Take("order") {
+		r.Want("by")
+		q.Order = ReadList(r, r.order)
 	}
-	return q
+}
+
+func (r *Reader) forUpdate() bool {
+	lock := r.Take("for")
+	if lock {
+		r.Want("update")
+	}
+	return lock
 }
 
 // perhaps reads a word and an expression, if the word comes next.
-func (r *reader) perhaps(word string) []api.Expr {
-	if !r.take(word) {
+func (r *Reader) perhaps(word string) []api.Expr {
+	if !r.Take(word) {
 		return nil
 	}
-	return []api.Expr{r.expr()}
+	return []api.Expr{r.Expr()}
 }
 
-func (r *reader) item() api.Item {
-	x := api.Item{Expr: r.expr()}
-	if r.take("as") {
-		x.As = r.name()
+func (r *Reader) item() api.Item {
+	x := api.Item{Expr: r.Expr()}
+	if r.Take("as") {
+		x.As = r.Name()
 	}
 	return x
 }
 
-func (r *reader) source() api.Source {
-	t := r.next()
-	s := api.Source{Path: r.path(2), Line: t.Line, Col: t.Col}
-	if r.take("as") {
-		r.want("of")
-		s.AsOf = []api.Expr{r.sum()}
+func (r *Reader) source() api.Source {
+	t := r.Next()
+	s := api.Source{Path: r.Path(2), Line: t.Line, Col: t.Col}
+	if r.Take("as") {
+		r.Want("of")
+		s.AsOf = []api.Expr{r.Sum()}
 	}
-	if r.next().Kind == api.TokName {
-		s.As = r.name()
+	if r.Next().Kind == api.TokName {
+		s.As = r.Name()
 	}
 	return s
 }
 
-func (r *reader) order() api.Order {
-	e := r.expr()
-	return api.Order{Expr: e, Desc: r.take("desc")}
+func (r *Reader) order() api.Order {
+	e := r.Expr()
+	return api.Order{Expr: e, Desc: r.Take("desc")}
 }

@@ -16,40 +16,44 @@ const (
 )
 
 // Valid reports whether a node, as a whole, is valid.
-func Valid(n Node) bool { return flaw(n) == api.OK }
+func Valid(n Node) bool {
+	_, code := Flaw(n)
+	return code == api.OK
+}
 
-// flaw returns ErrLimit, if a whole has too many nodes, or one that is not right, or else ErrDeep, if it has too many levels.
-func flaw(whole Node) api.Errno {
+// Flaw returns ErrLimit, if a whole has too many nodes, or one that is not right, or else ErrDeep, if it has too many levels; and how many nodes it has looked at for that.
+func Flaw(whole Node) (int, api.Errno) {
 	count, deep := 0, false
 	for n := range nodes(whole) {
 		count++
 		if count > maxNodes || !n.right() {
-			return api.ErrLimit
+			return count, api.ErrLimit
 		}
 		deep = deep || n.level > api.MaxNest
 	}
 	if deep {
-		return api.ErrDeep
+		return count, api.ErrDeep
 	}
-	return api.OK
+	return count, api.OK
 }
 
 // right reports whether a node is as it should be, whatever the nodes within it are.
 func (n Node) right() bool {
 	switch {
 	case n.Expr != nil:
-		return isPosition(n.Expr.Line, n.Expr.Col) && rightKids(n.Expr.Op, len(n.Expr.Kids)) && rightFields(*n.Expr)
+		return IsPosition(n.Expr.Line, n.Expr.Col) && rightKids(n.Expr.Op, len(n.Expr.Kids)) && rightFields(*n.Expr)
 	case n.Query != nil:
-		return isPosition(n.Query.Line, n.Query.Col) && rightQuery(n.Query)
+		return IsPosition(n.Query.Line, n.Query.Col) && rightQuery(n.Query)
 	case n.Source != nil:
-		return isPosition(n.Source.Line, n.Source.Col) && rightSource(n.Source)
+		return IsPosition(n.Source.Line, n.Source.Col) && rightSource(n.Source)
 	case n.Change != nil:
-		return isPosition(n.Change.Line, n.Change.Col) && rightChange(n.Change)
+		return IsPosition(n.Change.Line, n.Change.Col) && rightChange(n.Change)
 	}
 	return false
 }
 
-func isPosition(line, col int) bool {
+// IsPosition reports whether a line and a column may be those of a position, or missing.
+func IsPosition(line, col int) bool {
 	return 0 <= line && line <= api.MaxInt && 0 <= col && col <= api.MaxInt
 }
 
@@ -78,7 +82,7 @@ func rightFields(e api.Expr) bool {
 		ok = value.Valid(e.Val) && e.Val.N >= 0
 		e.Val = api.Value{}
 	case api.EName:
-		ok = isPath(e.Path, 3) && e.Text == "" || isOfRow(e.Path) && e.Text == ":"
+		ok = IsPath(e.Path, 3) && e.Text == "" || isOfRow(e.Path) && e.Text == ":"
 		e.Path, e.Text = nil, ""
 	case api.EUnary:
 		ok = isUnary(e.Text)
@@ -89,13 +93,13 @@ func rightFields(e api.Expr) bool {
 	case api.ENull, api.EIn, api.EBetween:
 		e.Not = false
 	case api.ECall:
-		ok = isPath(e.Path, 3) || isOnly(e.Path, "count")
+		ok = IsPath(e.Path, 3) || isOnly(e.Path, "count")
 		e.Path = nil
 	case api.EQuery, api.EExists:
-		ok = isInner(e.Query)
+		ok = IsInner(e.Query)
 		e.Query = nil
 	case api.EMark:
-		ok = (isPath(e.Path, 1) || isOnly(e.Path, "sql")) && slices.Contains(marks(), e.Text)
+		ok = (IsPath(e.Path, 1) || isOnly(e.Path, "sql")) && slices.Contains(marks(), e.Text)
 		e.Path, e.Text = nil, ""
 	case api.ECase, api.EStar: // they have their Kids alone, or nothing
 	default:
@@ -106,7 +110,7 @@ func rightFields(e api.Expr) bool {
 }
 
 func rightQuery(q *api.Query) bool {
-	return q.Star == (len(q.List) == 0) && len(q.List) <= api.MaxCols && each(q.List, rightItem) &&
+	return q.Star == (len(q.List) == 0) && len(q.List) <= api.MaxCols && Each(q.List, rightItem) &&
 		len(q.From) >= 1 && len(q.From) <= maxSources && len(q.Where) <= 1 && len(q.Having) <= 1 &&
 		len(q.Group) <= maxKeys && len(q.Order) <= maxKeys
 }
@@ -114,18 +118,18 @@ func rightQuery(q *api.Query) bool {
 func rightItem(x *api.Item) bool { return x.As == "" || lex.Name(x.As) }
 
 func rightSource(s *api.Source) bool {
-	return isPath(s.Path, 2) && len(s.AsOf) <= 1 && (s.As == "" || lex.Name(s.As))
+	return IsPath(s.Path, 2) && len(s.AsOf) <= 1 && (s.As == "" || lex.Name(s.As))
 }
 
 func rightChange(x *api.Change) bool {
-	return isPath(x.Path, 2) && len(x.Cols) <= api.MaxCols && each(x.Cols, isName) && len(x.Vals) <= api.MaxCols && len(x.Where) <= 1 && rightParts(x)
+	return IsPath(x.Path, 2) && len(x.Cols) <= api.MaxCols && Each(x.Cols, IsName) && len(x.Vals) <= api.MaxCols && len(x.Where) <= 1 && rightParts(x)
 }
 
 // rightParts reports whether a change has the parts that its Op wants, and no others.
 func rightParts(x *api.Change) bool {
 	switch x.Op {
 	case api.CInsert:
-		return len(x.Where) == 0 && (len(x.Vals) > 0 && len(x.Query) == 0 || len(x.Vals) == 0 && isInner(x.Query))
+		return len(x.Where) == 0 && (len(x.Vals) > 0 && len(x.Query) == 0 || len(x.Vals) == 0 && IsInner(x.Query))
 	case api.CUpdate:
 		return len(x.Cols) > 0 && len(x.Vals) == len(x.Cols) && len(x.Query) == 0
 	case api.CDelete:
@@ -134,15 +138,16 @@ func rightParts(x *api.Change) bool {
 	return false
 }
 
-// isPath reports whether a path is names, one at least.
-func isPath(path []string, most int) bool {
-	return 1 <= len(path) && len(path) <= most && each(path, isName)
+// IsPath reports whether a path is names, one at least, and not too many.
+func IsPath(path []string, most int) bool {
+	return 1 <= len(path) && len(path) <= most && Each(path, IsName)
 }
 
-func isName(s *string) bool { return lex.Name(*s) }
+// IsName reports whether a string is a name.
+func IsName(s *string) bool { return lex.Name(*s) }
 
-// isInner reports whether queries are just one, as it may stand within something else.
-func isInner(l []api.Query) bool { return len(l) == 1 && !l[0].Lock }
+// IsInner reports whether queries are just one, as it may stand within something else.
+func IsInner(l []api.Query) bool { return len(l) == 1 && !l[0].Lock }
 
 // isOfRow reports whether a path is that of a column of one of the rows that a trigger has.
 func isOfRow(path []string) bool {

@@ -6,11 +6,22 @@ import (
 	"justiciar/value"
 )
 
-// writer writes the tokens of what is valid.
-type writer struct{ tokens []api.Token }
+// Writer writes the tokens of what is valid.
+type Writer struct{ tokens []api.Token }
 
-// put writes names, words and signs.
-func (w *writer) put(l ...string) {
+// Text returns the string of the tokens.
+func (w *Writer) Text() (string, api.Errno) {
+	if w.Count() > api.MaxTokens {
+		return "", api.ErrLimit
+	}
+	return lex.Text(w.tokens)
+}
+
+// Count returns how many tokens there are.
+func (w *Writer) Count() int { return len(w.tokens) }
+
+// Put writes names, words and signs.
+func (w *Writer) Put(l ...string) {
 	for _, s := range l {
 		kind := api.TokSign
 		if lex.Word(s) {
@@ -22,143 +33,150 @@ func (w *writer) put(l ...string) {
 	}
 }
 
-// putIf writes words, if they are wanted.
-func (w *writer) putIf(wanted bool, l ...string) {
+// PutIf writes words, if they are wanted.
+func (w *Writer) PutIf(wanted bool, l ...string) {
 	if wanted {
-		w.put(l...)
+		w.Put(l...)
 	}
 }
 
-func (w *writer) path(path []string) {
+// Integer writes an integer that is not below 0.
+func (w *Writer) Integer(n int) {
+	w.tokens = append(w.tokens, api.Token{Kind: api.TokInt, N: n})
+}
+
+// Path writes names with points between.
+func (w *Writer) Path(path []string) {
 	for i, s := range path {
-		w.putIf(i > 0, ".")
-		w.put(s)
+		w.PutIf(i > 0, ".")
+		w.Put(s)
 	}
 }
 
-// writeList writes the elements of a list, with commas between.
-func writeList[T any](w *writer, l []T, write func(x T)) {
+// WriteList writes the elements of a list, with commas between.
+func WriteList[T any](w *Writer, l []T, write func(x T)) {
 	for i, x := range l {
-		w.putIf(i > 0, ",")
+		w.PutIf(i > 0, ",")
 		write(x)
 	}
 }
 
 // node writes a node of any kind.
-func (w *writer) node(n Node) {
+func (w *Writer) node(n Node) {
 	switch {
 	case n.Expr != nil:
-		w.expr(*n.Expr)
+		w.Expr(*n.Expr)
 	case n.Query != nil:
-		w.query(*n.Query)
+		w.Query(*n.Query)
 	case n.Source != nil:
 		w.source(*n.Source)
 	case n.Change != nil:
-		w.change(*n.Change)
+		w.Change(*n.Change)
 	}
 }
 
-func (w *writer) expr(e api.Expr) {
+// Expr writes an expression.
+func (w *Writer) Expr(e api.Expr) {
 	switch e.Op {
 	case api.EConst:
 		w.constant(e.Val)
 	case api.EName:
-		w.putIf(e.Text != "", e.Text)
-		w.path(e.Path)
+		w.PutIf(e.Text != "", e.Text)
+		w.Path(e.Path)
 	case api.EUnary:
-		w.put(e.Text)
-		w.operand(e.Kids[0])
+		w.Put(e.Text)
+		w.Operand(e.Kids[0])
 	case api.EBinary:
-		w.operand(e.Kids[0])
-		w.put(e.Text)
-		w.operand(e.Kids[1])
+		w.Operand(e.Kids[0])
+		w.Put(e.Text)
+		w.Operand(e.Kids[1])
 	case api.ENull, api.EIn, api.EBetween:
-		w.operand(e.Kids[0])
+		w.Operand(e.Kids[0])
 		w.test(e)
 	case api.ECase:
 		w.cases(e.Kids)
 	case api.ECall:
-		w.path(e.Path)
-		w.list(e.Kids)
+		w.Path(e.Path)
+		w.List(e.Kids)
 	case api.EStar:
-		w.put("count", "(", "*", ")")
+		w.Put("count", "(", "*", ")")
 	case api.EQuery:
 		w.subquery(e.Query[0])
 	case api.EExists:
-		w.put("exists")
+		w.Put("exists")
 		w.subquery(e.Query[0])
 	case api.EMark:
-		w.path(e.Path)
-		w.put("%", e.Text)
+		w.Path(e.Path)
+		w.Put("%", e.Text)
 	}
 }
 
-func (w *writer) constant(v api.Value) {
+func (w *Writer) constant(v api.Value) {
 	switch v.Kind {
 	case api.VInt:
-		w.tokens = append(w.tokens, api.Token{Kind: api.TokInt, N: v.N})
+		w.Integer(v.N)
 	case api.VText:
 		w.tokens = append(w.tokens, api.Token{Kind: api.TokText, Text: v.Text})
 	default: // they are words
 		s, _ := value.Text(v)
-		w.put(s)
+		w.Put(s)
 	}
 }
 
-// operand writes an expression that stands beside an operation; in brackets, if it is one itself.
-func (w *writer) operand(e api.Expr) {
+// Operand writes an expression that stands beside an operation; in brackets, if it is one itself.
+func (w *Writer) Operand(e api.Expr) {
 	switch e.Op {
 	case api.EUnary, api.EBinary, api.ENull, api.EIn, api.EBetween:
-		w.list([]api.Expr{e})
+		w.List([]api.Expr{e})
 	default:
-		w.expr(e)
+		w.Expr(e)
 	}
 }
 
 // test writes what stands behind the operand of a test.
-func (w *writer) test(e api.Expr) {
+func (w *Writer) test(e api.Expr) {
 	switch e.Op {
 	case api.ENull:
-		w.put("is")
-		w.putIf(e.Not, "not")
-		w.put("null")
+		w.Put("is")
+		w.PutIf(e.Not, "not")
+		w.Put("null")
 	case api.EIn:
-		w.putIf(e.Not, "not")
-		w.put("in")
-		w.list(e.Kids[1:])
+		w.PutIf(e.Not, "not")
+		w.Put("in")
+		w.List(e.Kids[1:])
 	case api.EBetween:
-		w.putIf(e.Not, "not")
-		w.put("between")
-		w.operand(e.Kids[1])
-		w.put("and")
-		w.operand(e.Kids[2])
+		w.PutIf(e.Not, "not")
+		w.Put("between")
+		w.Operand(e.Kids[1])
+		w.Put("and")
+		w.Operand(e.Kids[2])
 	}
 }
 
-// list writes expressions in brackets.
-func (w *writer) list(l []api.Expr) {
-	w.put("(")
-	writeList(w, l, w.expr)
-	w.put(")")
+// List writes expressions in brackets.
+func (w *Writer) List(l []api.Expr) {
+	w.Put("(")
+	WriteList(w, l, w.Expr)
+	w.Put(")")
 }
 
-func (w *writer) cases(l []api.Expr) {
-	w.put("case")
+func (w *Writer) cases(l []api.Expr) {
+	w.Put("case")
 	for len(l) > 1 {
-		w.put("when")
-		w.expr(l[0])
-		w.put("then")
-		w.expr(l[1])
+		w.Put("when")
+		w.Expr(l[0])
+		w.Put("then")
+		w.Expr(l[1])
 		l = l[2:]
 	}
-	w.clause("else", l)
-	w.put("end")
+	w.Clause("else", l)
+	w.Put("end")
 }
 
-// clause writes a word and the expression behind it, if it is there.
-func (w *writer) clause(word string, l []api.Expr) {
+// Clause writes a word and the expression behind it, if it is there.
+func (w *Writer) Clause(word string, l []api.Expr) {
 	for _, e := range l {
-		w.put(word)
-		w.expr(e)
+		w.Put(word)
+		w.Expr(e)
 	}
 }
