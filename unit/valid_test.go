@@ -25,7 +25,7 @@ func badNames() []string {
 // longest returns the longest name.
 func longest() string { return strings.Repeat("m", api.MaxName) }
 
-// positions returns lines and columns that are none.
+// badPositions returns numbers that are no lines and no columns.
 func badPositions() []int { return []int{-1, api.MaxInt + 1, -api.MaxInt} }
 
 // badExprs returns expressions that are not valid.
