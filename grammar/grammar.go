@@ -6,45 +6,37 @@ import (
 	"strings"
 
 	"justiciar/api"
+	"justiciar/lex"
 )
 
 // ParseExpr returns the expression that a string says, or its first fault.
 func ParseExpr(s string) (api.Expr, api.Fault) {
-	return parse(s, (*Reader).Expr, func(e *api.Expr) Node { return Node{Expr: e} })
+	return Parse(s, (*Reader).Expr, func(e *api.Expr) api.Errno { return flawOf(Node{Expr: e}) })
 }
 
 // ParseQuery returns the query that a string says, which may be for update, or its first fault.
 func ParseQuery(s string) (api.Query, api.Fault) {
-	return parse(s, (*Reader).Query, func(q *api.Query) Node { return Node{Query: q} })
+	return Parse(s, (*Reader).WholeQuery, func(q *api.Query) api.Errno { return flawOf(Node{Query: q}) })
 }
 
 // ParseChange returns the change that a string says, or its first fault.
 func ParseChange(s string) (api.Change, api.Fault) {
-	return parse(s, (*Reader).Change, func(x *api.Change) Node { return Node{Change: x} })
+	return Parse(s, (*Reader).Change, func(x *api.Change) api.Errno { return flawOf(Node{Change: x}) })
 }
 
-// parse returns what a rule reads, if it is all tokens of a string, and valid as the node that it is.
-func parse[T any](s string, rule func(r *Reader) T, nodeOf func(x *T) Node) (T, api.Fault) {
-	return Parse(s, func(r *Reader) T {
-		r.wantTokens()
-		first := r.Next()
-		x := rule(r)
-		r.finish()
-		r.Check(first, func() api.Errno {
-			_, code := Flaw(nodeOf(&x))
-			return code
-		})
-		return x
-	})
-}
-
-// Parse returns what a rule reads, if it is all tokens of a string, or the string's first fault.
-func Parse[T any](s string, rule func(r *Reader) T) (T, api.Fault) {
-	r := newReader(s)
+// Parse returns what a rule reads, if it is all tokens of a string and a closure finds no flaw in it, or the string's first fault.
+func Parse[T any](s string, rule func(r *Reader) T, flaw func(x *T) api.Errno) (T, api.Fault) {
+	var none T
+	l, f := lex.Lex(s)
+	if f.Code != api.OK {
+		return none, f
+	}
+	r := &Reader{left: l, end: endOf(s)}
+	first := r.Next()
 	x := rule(r)
 	r.finish()
+	r.Check(first, func() api.Errno { return flaw(&x) })
 	if r.fault.Code != api.OK {
-		var none T
 		return none, r.fault
 	}
 	return x, api.Fault{}

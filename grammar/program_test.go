@@ -11,7 +11,7 @@ import (
 // noQuery is where no query may begin.
 const noQuery = "noquery"
 
-// programs is the rest of the document's grammar: with what begins a query behind the in of a loop, and which objects can be replaced.
+// programs is the rest of the document's grammar: with what begins a query behind the in of a loop, where a query may be for update, and which objects can be replaced.
 const programs = `
 block   = [ "declare" { decl } ] "begin" rest
 rest    = { stmt } [ "exception" { "when" name { "or" name } "then" { stmt } } ] "end" ";"
@@ -45,7 +45,7 @@ def     = "create" object | "create" "or" "replace" again
 object  = again | "table" path2 "(" ( column | constr ) { "," ( column | constr ) } ")" ";"
         | "index" path2 "on" path2 names ";"
         | "sequence" path2 "start" number "by" number "cache" integer ";"
-again   = "view" path2 "as" whole ";"
+again   = "view" path2 "as" query ";"
         | [ "invoker" ] osub | [ "invoker" ] "package" path2 "is" { decl | [ "private" ] sub } "end" ";"
         | "trigger" path2 ( "before" | "after" ) event { "or" event } "on" path2
           [ "for" "each" "row" [ "when" "(" expr ")" ] ] block

@@ -42,7 +42,7 @@ func (r *Reader) inserted(x *api.Change) {
 		x.Vals = r.exprs()
 		return
 	}
-	x.Query = []api.Query{r.query()}
+	x.Query = []api.Query{r.Query()}
 }
 
 // settings reads the columns of an update, and what they are set to.

@@ -10,38 +10,13 @@ import (
 // Reader reads the tokens of a string up to the first fault. Then none is left, so that no rule of the grammar reads on.
 type Reader struct {
 	left  []api.Token
-	end   api.Fault // that the string ends where a token is needed, or that layer 2 finds none there
+	end   api.Fault // that the string ends where a token is needed
 	fault api.Fault // the first one
-}
-
-func newReader(s string) *Reader {
-	l, f := lex.Lex(s)
-	if f.Code == api.OK {
-		return &Reader{left: l, end: endOf(s)}
-	}
-	l, _ = lex.Lex(before(s, f.Line, f.Col))
-	return &Reader{left: l, end: f}
 }
 
 // endOf returns the fault that a string ends too early.
 func endOf(s string) api.Fault {
 	return api.Fault{Code: api.ErrEnd, Line: strings.Count(s, "\n") + 1, Col: len(s) - strings.LastIndexByte(s, '\n')}
-}
-
-// before returns what stands before a position of a string; nothing, if it is no position.
-func before(s string, line, col int) string {
-	start := 0
-	for range line - 1 {
-		start += strings.IndexByte(s[start:], '\n') + 1
-	}
-	return s[:start+max(col-1, 0)]
-}
-
-// wantTokens wants layer 2 to read the whole string.
-func (r *Reader) wantTokens() {
-	if r.end.Code != api.ErrEnd {
-		r.note(r.end)
-	}
 }
 
 // note notes a fault, if it is the first one.
@@ -52,10 +27,8 @@ func (r *Reader) note(f api.Fault) {
 	r.left = nil
 }
 
-// More reports whether there is more to be read: tokens, or what is none.
-func (r *Reader) More() bool {
-	return len(r.left) > 0 || r.fault.Code == api.OK && r.end.Code != api.ErrEnd
-}
+// More reports whether there are more tokens to be read.
+func (r *Reader) More() bool { return len(r.left) > 0 }
 
 // finish wants no more tokens.
 func (r *Reader) finish() {
@@ -80,11 +53,11 @@ func (r *Reader) skip() { r.left = r.left[1:] }
 
 // Fail notes that the next token cannot stand where it does.
 func (r *Reader) Fail() {
-	t := r.Next()
-	if len(r.left) == 0 {
+	if !r.More() {
 		r.note(r.end)
 		return
 	}
+	t := r.Next()
 	r.note(api.Fault{Code: api.ErrSyntax, Name: nameOf(t), Line: t.Line, Col: t.Col})
 }
 

@@ -4,19 +4,19 @@ import "justiciar/api"
 
 // subquery reads a query, and the bracket behind it.
 func (r *Reader) subquery() []api.Query {
-	q := r.query()
+	q := r.Query()
 	r.Want(")")
 	return []api.Query{q}
 }
 
-// Query reads a query that is within no other one, and therefore may be for update.
-func (r *Reader) Query() api.Query {
-	q := r.query()
+// WholeQuery reads a query that is the whole of what it stands for, and therefore may be for update.
+func (r *Reader) WholeQuery() api.Query {
+	q := r.Query()
 	q.Lock = r.forUpdate()
 	return q
 }
 
-// QueryInto reads such a query, of items, with what a closure reads between these and its sources.
+// QueryInto reads a whole query, of items, with what a closure reads between these and its sources.
 func (r *Reader) QueryInto(into func()) api.Query {
 	q := r.begunQuery()
 	q.List = ReadList(r, r.item)
@@ -26,7 +26,8 @@ func (r *Reader) QueryInto(into func()) api.Query {
 	return q
 }
 
-func (r *Reader) query() api.Query {
+// Query reads a query that may not be for update.
+func (r *Reader) Query() api.Query {
 	q := r.begunQuery()
 	q.Star = r.Take("*")
 	if !q.Star {

@@ -16,9 +16,11 @@ const (
 )
 
 // Valid reports whether a node, as a whole, is valid.
-func Valid(n Node) bool {
-	_, code := Flaw(n)
-	return code == api.OK
+func Valid(n Node) bool { return flawOf(n) == api.OK }
+
+func flawOf(whole Node) api.Errno {
+	_, code := Flaw(whole)
+	return code
 }
 
 // Flaw returns ErrLimit, if a whole has too many nodes, or one that is not right, or else ErrDeep, if it has too many levels; and how many nodes it has looked at for that.

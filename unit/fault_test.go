@@ -5,6 +5,7 @@ import (
 	"testing"
 
 	"justiciar/api"
+	"justiciar/lex"
 )
 
 // expectSyntaxFaults expects ErrSyntax at the token behind each ^, and ErrEnd, if the string ends there, but more is needed. Strings have a ~ or a line's end between them.
@@ -18,7 +19,8 @@ func expectSyntaxFaults[T any](t *testing.T, k kind[T], frame, all string) {
 		}
 		called := nameOf(t, behind)
 		k.expectFault(t, before+behind, api.ErrSyntax, called, 1, len(before)+1)
-		k.expectFault(t, "--\n\n "+before+behind+" ) from 'a' ? '", api.ErrSyntax, called, 3, len(before)+2)
+		k.expectFault(t, "--\n\n "+before+behind+" ) from 'a' ; 1", api.ErrSyntax, called, 3, len(before)+2)
+		k.expectFault(t, before+behind+" ) ? '", api.ErrLex, "?", 1, len(before+behind)+4)
 		if _, f := k.parse(before); f.Code != api.OK { // it is not all of the form that was read already
 			k.expectFault(t, "\n"+before, api.ErrEnd, "", 2, len(before)+1)
 		}
@@ -67,7 +69,7 @@ create table t (constraint ^unique (a));~create table t (constraint a ^b);~creat
 create table t (constraint a check ^b);~create table t (constraint a check (^));~create table t (constraint a check (b^, c));~create table t (constraint a check (^select b from t));~create table t (constraint a check (b) deferred ^deferred);~create table t (constraint a check (b) ^not null);~create table t (constraint a^.b check (c));~create table t (constraint a ^deferred);~create table t (a int ^constraint b unique (a));
 create index ^on t (a);~create index i ^t (a);~create index i on ^(a);~create index i on t ^a;~create index i on t (^);~create index i on t (a ^b);~create index i on t (a) ^b;~create index i on t (a ^desc);~create index i on u.t^.v (a);~create index u.i^.j on t (a);~create index i on t (a^.b);
 create sequence ^start 1;~create sequence s ^by 1;~create sequence s start ^by 1;~create sequence s start ^a by 1;~create sequence s start 1 ^cache 1;~create sequence s start 1 by ^cache 1;~create sequence s start 1 by 1 ^;~create sequence s start 1 by 1 cache ^;~create sequence s start 1 by 1 cache ^- 1;~create sequence s start 1 by 1 cache 1 ^1;~create sequence s start - ^- 1 by 1 cache 1;~create sequence s start ^+ 1 by 1 cache 1;~create sequence s start 1 ^+ 1 by 1 cache 1;~create sequence s start ^'1' by 1 cache 1;~create sequence s start ^(1) by 1 cache 1;~create sequence u.s^.t start 1 by 1 cache 1;
-create view ^as select a from t;~create view v ^select a from t;~create view v as ^insert into t values (1);~create view v as ^(select a from t);~create view v as select a from t a ^b;~create view v ^(a) as select b from t;~create view v as select a ^into b from t;~create view u.v^.w as select a from t;~create view v as select a from t for ^;
+create view ^as select a from t;~create view v ^select a from t;~create view v as ^insert into t values (1);~create view v as ^(select a from t);~create view v as select a from t a ^b;~create view v ^(a) as select b from t;~create view v as select a ^into b from t;~create view u.v^.w as select a from t;~create view v as select a from t ^for;~create view v as select a from t ^for update;~create or replace view u.v as select * from t where b ^for update;~create view v as select a from t u order by b desc ^for loop
 create procedure ^is~create procedure p ^begin~create procedure p ^return int is begin end;~create procedure u.p^.q is~create procedure p (^) is~create procedure p (a^) is~create procedure p (a ^b) is~create procedure p (^in int) is~create procedure p (a in ^in int) is~create procedure p (a out ^in int) is~create procedure p (a in out ^out int) is~create procedure p (a array ^int) is~create procedure p (a array of ^array of int) is~create procedure p (a int,^) is~create procedure p (a int ^:= 1) is~create procedure p (a int, ^in b int) is
 create procedure p ^declare a int;~create procedure p autonomous ^begin~create procedure p autonomous ^autonomous is~create procedure p is ^declare a int;~create procedure p is ^end;~create procedure p is begin end ^p;~create procedure p is begin end; ^;~create procedure p is begin null ^end;~create procedure p is ^procedure q is~create procedure p ^as~create procedure p (a int) ^(b int) is~create procedure p ^invoker is
 create function f ^is~create function f (a int) ^is~create function f return ^is~create function f return ^a~create function f return ^array of int is~create function f return int ^return int is~create function f ^autonomous return int is~create function f return int is begin return ^end;
@@ -92,50 +94,43 @@ func TestSyntaxFaultsOfScripts(t *testing.T) {
 	}
 }
 
-// expectFirstFaults expects faults of layer 2 at their places among the others, behind what may go on with a name.
-func expectFirstFaults[T any](t *testing.T, k kind[T], begin string) {
+// expectLexFaults expects faults of layer 2, whatever stands ahead of them.
+func expectLexFaults[T any](t *testing.T, k kind[T], begin string) {
 	t.Helper()
 	n := len(begin)
 	long := strings.Repeat("m", api.MaxName+1)
 	k.expectFault(t, begin+" ? b", api.ErrLex, "?", 1, n+2)
 	k.expectFault(t, begin+" 'b", api.ErrLex, "'", 1, n+2)
 	k.expectFault(t, begin+"\n\n 'b\n'", api.ErrLex, "'", 3, 2)
+	k.expectFault(t, begin+"\xe5", api.ErrLex, "\xe5", 1, n+1)
 	k.expectFault(t, begin+" 1099511627777 ?", api.ErrRange, "1099511627777", 1, n+2)
 	k.expectFault(t, begin+" "+long+" )", api.ErrRange, long[:api.MaxName], 1, n+2)
 	k.expectFault(t, begin+" '"+strings.Repeat("b", api.MaxText+1)+"'", api.ErrRange, "'", 1, n+2)
-	k.expectFault(t, "--?\n"+begin+" ) ?", api.ErrSyntax, ")", 2, n+2)
-	k.expectFault(t, begin+" ) 'a", api.ErrSyntax, ")", 1, n+2)
-	k.expectFault(t, begin+"\n)?", api.ErrSyntax, ")", 2, 1)
-	k.expectFault(t, begin+" ) 1099511627777", api.ErrSyntax, ")", 1, n+2)
-	k.expectFault(t, begin+" ) "+strings.Repeat("a ", api.MaxTokens), api.ErrSyntax, ")", 1, n+2)
-	k.expectFault(t, begin+strings.Repeat(" ", api.MaxSource), api.ErrLimit, "", 0, 0)
-	k.expectFault(t, begin+" )"+strings.Repeat("\n", api.MaxSource), api.ErrLimit, "", 0, 0)
+	k.expectFault(t, begin+strings.Repeat(" ", api.MaxSource+1), api.ErrLimit, "", 0, 0)
+	k.expectFault(t, begin+strings.Repeat("\n", api.MaxSource)+"?", api.ErrLimit, "", 0, 0)
+	l, _ := lex.Lex(begin)
+	k.expectFault(t, begin+strings.Repeat(" a", api.MaxTokens+1), api.ErrLimit, "a", 1, n+2*(api.MaxTokens+1-len(l)))
 }
 
-// P5.1 to P5.3, P5.7: the fault whose token comes first is found, whether layer 2 finds it or this one; but of what is too long that.
-func TestFirstFaults(t *testing.T) {
-	for _, begin := range []string{"begin a :=", "declare", "begin if a then b; elsif", "begin for a in", "begin for", "begin exception when b or"} {
-		expectFirstFaults(t, blocks(), begin)
-		expectFirstFaults(t, scripts(), "drop table t; "+begin)
+// P5.1 to P5.3: the fault of layer 2 is found first, behind what may go on with a name, what cannot stand there, what is not valid, and what is whole.
+func TestFaultsOfLex(t *testing.T) {
+	all := []string{"", "begin a :=", "declare", "begin if a then b; elsif", "begin for a in", "begin exception when b or", "create table", "create table t (a int, constraint", "create view v as select a from", "create package k is a int := 1; procedure", "grant select on", "drop view u ."}
+	all = append(all, "c", ")", "begin x = 1 ; end;", "null;", "create table t (a int a);", "select a from t for;", "drop table t u", "delete t;")
+	all = append(all, "create table t (a int, a int);", "begin "+strings.Repeat("null;", 51)+" end;", "begin a := "+deep(41)+"; end;", strings.Repeat("drop table t; ", 101))
+	all = append(all, "begin end;", "drop table t;", "select a from t;", "insert into t values (1); begin null; end;")
+	for _, begin := range all {
+		expectLexFaults(t, blocks(), begin)
+		expectLexFaults(t, defs(), begin)
+		expectLexFaults(t, scripts(), begin)
+		expectLexFaults(t, scripts(), "select a from t; "+begin)
 	}
-	for _, begin := range []string{"create table", "create table t (a int, constraint", "create view v as select a from", "create package k is a int := 1; procedure", "grant select on", "drop view u ."} {
-		expectFirstFaults(t, defs(), begin)
-		expectFirstFaults(t, scripts(), "select a from t; "+begin)
-	}
-	for s, name := range map[string]string{"begin end; ?": "?", "begin end; 'a": "'"} {
-		blocks().expectFault(t, s, api.ErrLex, name, 1, 12)
-		scripts().expectFault(t, s, api.ErrLex, name, 1, 12)
-	}
-	defs().expectFault(t, "drop table t; ?", api.ErrLex, "?", 1, 15)
-	scripts().expectFault(t, "?", api.ErrLex, "?", 1, 1)
-	scripts().expectFault(t, " 'a", api.ErrLex, "'", 1, 2)
 }
 
 // P5.1 to P5.3: a string that is too long, or has too many tokens, and the longest ones.
 func TestLongSources(t *testing.T) {
 	s := "begin a(" + times(1998, "1", ",") + "); end;"
 	blocks().expectFault(t, s, api.ErrLimit, "end", 1, len(s)-3)
-	blocks().expectFault(t, strings.Replace(s, "begin a", "begin ; a", 1), api.ErrSyntax, ";", 1, 7)
+	blocks().expectFault(t, strings.Replace(s, "begin a", "begin ; a", 1), api.ErrLimit, ";", 1, len(s)-3)
 	fits := "begin a(" + times(1997, "1", ",") + "); end" // 3999 tokens
 	blocks().expectFault(t, fits, api.ErrEnd, "", 1, len(fits)+1)
 	blocks().tree(t, fits+";")

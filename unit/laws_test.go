@@ -390,7 +390,7 @@ func wants[T any](l []sample[T]) []string {
 	return all
 }
 
-// expectKept expects that a fault stays the first one, whatever stands behind it, unless it is that the string ends.
+// expectKept expects that a fault stays the first one, whatever tokens stand behind it, unless it is that the string ends.
 func expectKept[T any](t *testing.T, k kind[T], more []string, s string) int {
 	t.Helper()
 	_, f := k.parse(s)
@@ -405,24 +405,62 @@ func expectKept[T any](t *testing.T, k kind[T], more []string, s string) int {
 	return 1
 }
 
-// P5.7: what stands behind a fault does not change it, in strings with tokens more, less, or other ones.
-func TestFirstFaultStays(t *testing.T) {
-	m := newMaker()
+// isWhole reports whether a fault is one of what has been read to its end.
+func isWhole[T any](k kind[T], s string) bool {
+	_, f := k.parse(s)
+	return f.Code == api.ErrDeep || f.Code == api.ErrLimit && f.Name == ""
+}
+
+// alteredStrings calls a closure with strings of samples, with a token more, less, or another one.
+func alteredStrings(m maker, many int, look func(s string)) {
 	all := append(wants(blockSamples()), wants(defSamples())...)
-	more := append([]string{"a", ")", "; begin end;", "?", "'", "'a' 'b", " 1099511627777", "end; ) (", "\n-- a", times(200, "x", " ")}, all[len(all)-5:]...)
-	kept := 0
-	for range 1500 {
+	for range many {
 		words := strings.Fields(pick(m, all))
 		at := m.IntN(len(words))
 		words[at] = pick(m, []string{"", "a", ")", "; ;", "?", "1099511627777", "end", "select", "begin", "for", "( select", "1", "''", "exception", strings.Repeat("m", 31)})
-		s := strings.Join(words[:m.IntN(len(words)-at)+at+1], " ")
-		kept += expectKept(t, blocks(), more, s) + expectKept(t, defs(), more, s) + expectKept(t, scripts(), more, s) + expectKept(t, scripts(), more, "drop table t; "+s)
+		look(strings.Join(words[:m.IntN(len(words)-at)+at+1], " "))
 	}
+}
+
+// P5.7: what stands behind a fault does not change it; but behind a block or definition that is whole nothing may stand.
+func TestFirstFaultStays(t *testing.T) {
+	more := append([]string{"a", ")", "; begin end;", "'a' 'b'", "1", "end; ) (", "\n-- a", times(200, "x", " ")}, wants(defSamples())[:5]...)
+	kept := 0
+	alteredStrings(newMaker(), 1500, func(s string) {
+		if !isWhole(blocks(), s) && !isWhole(defs(), s) {
+			kept += expectKept(t, blocks(), more, s) + expectKept(t, defs(), more, s)
+		}
+		kept += expectKept(t, scripts(), more, s) + expectKept(t, scripts(), more, "drop table t; "+s)
+	})
 	for _, s := range []string{"begin " + strings.Repeat("null;", 51) + " end;", "begin a := " + deep(41) + "; end;", "create index i on t (a, a);", "create view v as select a from t where " + deep(40) + ";"} {
-		kept += expectKept(t, blocks(), more, s) + expectKept(t, defs(), more, s) + expectKept(t, scripts(), more, s)
+		kept += expectKept(t, scripts(), more, s)
 	}
 	if kept < 1000 {
 		t.Error("too few had faults:", kept)
+	}
+}
+
+// expectLexFirst expects that the fault of layer 2 is the first one, if there is one.
+func expectLexFirst[T any](t *testing.T, k kind[T], s string) int {
+	t.Helper()
+	_, want := lex.Lex(s)
+	if want.Code == api.OK {
+		return 0
+	}
+	k.expectFault(t, s, want.Code, want.Name, want.Line, want.Col)
+	return 1
+}
+
+// P5.1 to P5.3: the fault of layer 2 comes first, wherever others are.
+func TestFaultOfLexFirst(t *testing.T) {
+	found := 0
+	alteredStrings(newMaker(), 1500, func(s string) {
+		for _, behind := range []string{"", " ?", "\n\n'a", ") " + strings.Repeat("m", 31), "; 1099511627777", "\xe5"} {
+			found += expectLexFirst(t, blocks(), s+behind) + expectLexFirst(t, defs(), s+behind) + expectLexFirst(t, scripts(), s+behind)
+		}
+	})
+	if found < 10000 {
+		t.Error("too few had faults:", found)
 	}
 }
 

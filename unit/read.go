@@ -39,7 +39,7 @@ func (r reader) itemRule() func() Item {
 	case "declare", "begin":
 		return func() Item { return Item{Block: []api.Block{r.block()}} }
 	case "select":
-		return func() Item { return Item{Query: []api.Query{ended(r, r.Query)}} }
+		return func() Item { return Item{Query: []api.Query{ended(r, r.WholeQuery)}} }
 	case "insert", "update", "delete":
 		return func() Item { return Item{Change: []api.Change{ended(r, r.Change)}} }
 	case "create", "drop", "alter", "grant", "revoke":
@@ -105,7 +105,7 @@ func (r reader) decl() api.Decl {
 	if r.Take("cursor") {
 		d.Op, d.Name = api.DCursor, r.Name()
 		r.Want("is")
-		d.Query = []api.Query{r.Query()}
+		d.Query = []api.Query{r.WholeQuery()}
 	} else {
 		d.Name = r.Name()
 		r.declared(&d)

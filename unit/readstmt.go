@@ -208,7 +208,7 @@ func (r reader) rows(s *api.Stmt) bool {
 	switch {
 	case r.Stands("(") && r.StandsBehind(1, "select"):
 		r.Want("(")
-		s.Query = []api.Query{r.Query()}
+		s.Query = []api.Query{r.WholeQuery()}
 		r.Want(")")
 		return true
 	case r.Next().Kind == api.TokName && r.StandsBehind(1, "loop"):
