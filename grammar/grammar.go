@@ -59,7 +59,7 @@ func Paths(n Node, find func(n Node) []string) ([][]string, api.Errno) {
 	}
 	var l [][]string
 	seen := map[string]bool{}
-	for inner := range nodes(n) {
+	for inner := range Nodes(n) {
 		path := find(inner)
 		if key := strings.Join(path, "."); key != "" && !seen[key] {
 			seen[key] = true

@@ -15,8 +15,8 @@ type Node struct {
 	level  int // that of the whole is 1
 }
 
-// nodes ranges over a whole node and all nodes within it, in the order in which they stand, but each ahead of those within it.
-func nodes(whole Node) iter.Seq[Node] {
+// Nodes ranges over a whole node and all nodes within it, in the order in which they stand, but each ahead of those within it.
+func Nodes(whole Node) iter.Seq[Node] {
 	whole.level = 1
 	return func(yield func(Node) bool) { whole.visit(yield) }
 }

@@ -26,7 +26,7 @@ func flawOf(whole Node) api.Errno {
 // Flaw returns ErrLimit, if a whole has too many nodes, or one that is not right, or else ErrDeep, if it has too many levels; and how many nodes it has looked at for that.
 func Flaw(whole Node) (int, api.Errno) {
 	count, deep := 0, false
-	for n := range nodes(whole) {
+	for n := range Nodes(whole) {
 		count++
 		if count > maxNodes || !n.right() {
 			return count, api.ErrLimit

@@ -5,6 +5,7 @@ import (
 
 	"justiciar/api"
 	"justiciar/grammar"
+	"justiciar/part"
 )
 
 // How much there may be.
@@ -17,10 +18,10 @@ const (
 )
 
 // flawOf returns ErrLimit, if something is not right, or has too many parts, or one that is not right, or else ErrDeep, if it has too many levels. A closure shows its parts.
-func flawOf(right bool, show func(look looker) bool) api.Errno {
+func flawOf(right bool, show func(look part.Looker) bool) api.Errno {
 	count, deep := 0, false
-	fits := right && show(func(p part) bool {
-		many, code := p.flaw()
+	fits := right && show(func(p part.Part) bool {
+		many, code := flawOfPart(p)
 		count += many
 		deep = deep || code == api.ErrDeep
 		return code != api.ErrLimit && count <= maxNodes
@@ -35,16 +36,16 @@ func flawOf(right bool, show func(look looker) bool) api.Errno {
 }
 
 func flawOfBlock(b *api.Block) api.Errno {
-	return flawOf(rightBlock(b), func(look looker) bool { return look.block(b, 1) })
+	return flawOf(rightBlock(b), func(look part.Looker) bool { return look.Block(b, 1) })
 }
 
 func flawOfUnit(k api.ObjKind, name string, u *api.Unit) api.Errno {
-	return flawOf(rightUnit(k, name, u), func(look looker) bool { return look.unit(u) })
+	return flawOf(rightUnit(k, name, u), func(look part.Looker) bool { return look.Unit(u) })
 }
 
 // flawOfDef looks at the parts of an object that is made alone: others just say which one they mean.
 func flawOfDef(d *api.Def) api.Errno {
-	return flawOf(rightDef(*d), func(look looker) bool { return d.Op != api.FCreate || look.object(&d.Object) })
+	return flawOf(rightDef(*d), func(look part.Looker) bool { return d.Op != api.FCreate || look.Object(&d.Object) })
 }
 
 // flawOfItem returns ErrLimit unless there is just one of what an item may be.
@@ -58,20 +59,20 @@ func flawOfItem(x *Item) api.Errno {
 	if len(x.Def) == 1 {
 		return flawOfDef(&x.Def[0])
 	}
-	return flawOf(true, func(look looker) bool {
-		return grammar.Each(x.Query, look.query) && grammar.Each(x.Change, look.change)
+	return flawOf(true, func(look part.Looker) bool {
+		return grammar.Each(x.Query, look.Query) && grammar.Each(x.Change, look.Change)
 	})
 }
 
-// flaw returns for how many nodes a part counts, and its flaw, whatever the parts within it are.
-func (p part) flaw() (int, api.Errno) {
+// flawOfPart returns for how many nodes a part counts, and its flaw, whatever the parts within it are.
+func flawOfPart(p part.Part) (int, api.Errno) {
 	switch {
-	case p.stmt != nil && !rightStmt(*p.stmt), p.decl != nil && !rightDecl(p.decl), p.handler != nil && !rightHandler(p.handler), p.sub != nil && !rightSub(p.sub):
+	case p.Stmt != nil && !rightStmt(*p.Stmt), p.Decl != nil && !rightDecl(p.Decl), p.Handler != nil && !rightHandler(p.Handler), p.Sub != nil && !rightSub(p.Sub):
 		return 1, api.ErrLimit
-	case p.level > api.MaxNest:
+	case p.Level > api.MaxNest:
 		return 1, api.ErrDeep
-	case p.node != grammar.Node{}:
-		return grammar.Flaw(p.node)
+	case p.Node != grammar.Node{}:
+		return grammar.Flaw(p.Node)
 	}
 	return 1, api.OK
 }
