@@ -84,13 +84,12 @@ func (x *change) create(o api.Object, replace bool) {
 	want(old != nil || len(x.Objects) < api.MaxObjects, api.ErrLimit)
 	x.settle(&o)
 	o.Stamp, o.Valid = x.Stamp, true
-	x.stale(key)
 	if old != nil {
 		*old = o
 	} else {
 		x.Objects = inserted(x.Objects, o, compareObjects)
 	}
-	x.stale(key) // again, as paths may have meant something else before
+	x.stale(key) // all that hung on what was replaced hangs on this, too: the paths to it are those of others
 }
 
 // inserted returns a list that rises with one element more.

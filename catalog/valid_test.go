@@ -121,7 +121,9 @@ func TestValidSpoiled(t *testing.T) {
 	}
 	spoil("Stamp -1", func(c *api.Catalog) { *c = api.Catalog{Stamp: -1} })
 	spoil("a Stamp beyond MaxInt", func(c *api.Catalog) { c.Stamp = api.MaxInt + 1 })
-	spoil("without an owner", func(c *api.Catalog) { c.Users = c.Users[:1] })
+	spoil("without an owner", func(c *api.Catalog) { c.Users, c.Grants = c.Users[:1], nil })
+	spoil("with an object of nobody", func(c *api.Catalog) { c.Objects[0].Owner = "" })
+	spoil("without one to whom rights are granted", func(c *api.Catalog) { c.Users = c.Users[:2] })
 	spoil("objects that fall", func(c *api.Catalog) { c.Objects[0], c.Objects[1] = c.Objects[1], c.Objects[0] })
 	spoil("owners that fall", func(c *api.Catalog) {
 		slices.SortFunc(c.Objects, func(a, b api.Object) int { return strings.Compare(a.Name+a.Owner, b.Name+b.Owner) })
