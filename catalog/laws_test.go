@@ -274,7 +274,7 @@ func TestLawBack(t *testing.T) {
 			}
 			key := changedBy(user, d)
 			if slices.ContainsFunc(n.Objects, func(o api.Object) bool {
-				return slices.Contains(namedBy(n, o), key) && [2]string{o.Owner, o.Name} != key
+				return slices.Contains(namedBy(n, o), key)
 			}) {
 				return
 			}

@@ -17,7 +17,7 @@ type links struct {
 	to  map[[2]string][][2]string
 }
 
-// linksOf returns links from each object of a catalog to those that it names.
+// linksOf returns links from each object of a catalog to those that it names: none leads to itself.
 func linksOf(c *api.Catalog) links {
 	l := links{to: map[[2]string][][2]string{}}
 	for i := range c.Objects {
@@ -28,10 +28,11 @@ func linksOf(c *api.Catalog) links {
 	return l
 }
 
-// namesOf returns the objects of a catalog that one of them names, rising.
+// namesOf returns the other objects of a catalog that one of them names, rising.
 func namesOf(c *api.Catalog, o *api.Object) [][2]string {
 	meant := set{}
 	showPaths(o, func(path []string) { meant[keyOfPath(o.Owner, path)] = true })
+	meant[keyOf(o)] = false // what an object names is another one
 	var l [][2]string
 	for i := range c.Objects {
 		if key := keyOf(&c.Objects[i]); meant[key] {
@@ -125,7 +126,7 @@ func (l links) sorted() [][2]string {
 	var all [][2]string
 	for len(left) > 0 {
 		at := max(0, slices.IndexFunc(left, func(key [2]string) bool {
-			return !slices.ContainsFunc(l.to[key], func(to [2]string) bool { return to != key && !come[to] })
+			return !slices.ContainsFunc(l.to[key], func(to [2]string) bool { return !come[to] })
 		}))
 		come[left[at]] = true
 		all = append(all, left[at])

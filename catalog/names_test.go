@@ -115,10 +115,15 @@ func TestNamed(t *testing.T) {
 		{"view ann.o as select ann.b from ann.x", "ann.ann ann.b"},
 		{"table o (a int, b int, c int default b, constraint a check (c.a > 0), constraint k unique (a))", "ann.b ann.c c.a"},
 		{"table o (a int, constraint f foreign key (a) references ann.t)", "ann.t"},
-		{"table o (a int, constraint p primary key (a), constraint f foreign key (a) references o)", "ann.o"},
+		{"table o (a int, constraint p primary key (a), constraint f foreign key (a) references o)", ""},
+		{"table o (a int, b int default o + ann.o.b, constraint p primary key (a), constraint f foreign key (a) references ann.o, constraint g foreign key (b) references t)", "ann.ann ann.t"},
+		{"view o as select o.x, ann.o.y from o, ann.o, t", "ann.ann ann.t"},
 		{"index o on t (a)", "ann.t"},
 		{"sequence a1 start 1 by 1 cache 1", ""},
-		{"procedure o is begin o; end", "ann.o"},
+		{"procedure o is begin o; end", ""},
+		{"procedure o is begin o; ann.o; insert into t values (1, 2); end", "ann.ann ann.t"},
+		{"package o is x int := ann.o.q; cursor k is select x from t; procedure q is begin o.q; end; end", "ann.ann ann.t"},
+		{"trigger o after insert on t begin insert into o values (ann.o); end", "ann.ann ann.t"},
 		{"procedure o is begin a; end", "ann.a"},
 		{"procedure o is begin b.a; end", "ann.b b.a"},
 		{"procedure o is begin b.a.c(c.a); end", "ann.b ann.c b.a c.a"},
@@ -147,19 +152,14 @@ func TestNamed(t *testing.T) {
 		for _, o := range n.Objects {
 			if o.Stamp == n.Stamp {
 				expectKeys(t, x.what+": Names", catalog.Names, n, o.Owner+"."+o.Name, x.want)
-				expectKeys(t, x.what+": Hangs", catalog.Hangs, n, o.Owner+"."+o.Name, hangsOn(x.want))
+				expectKeys(t, x.what+": Hangs", catalog.Hangs, n, o.Owner+"."+o.Name, x.want) // t names nothing
 				expectNamed(t, n)
 			}
 		}
 	}
 }
 
-// hangsOn returns what an object ann.o hangs on that names these objects: t names nothing.
-func hangsOn(names string) string {
-	return strings.Join(slices.DeleteFunc(strings.Fields(names), func(key string) bool { return key == "ann.o" }), " ")
-}
-
-// namedBy finds which objects an object names in all fields with paths, wherever they are.
+// namedBy finds which other objects an object names in all fields with paths, wherever they are.
 func namedBy(c api.Catalog, o api.Object) [][2]string {
 	meant := map[[2]string]bool{}
 	path := func(l []string) {
@@ -199,9 +199,9 @@ func namedBy(c api.Catalog, o api.Object) [][2]string {
 		}
 	})
 	var l [][2]string
-	for _, o := range c.Objects {
-		if meant[[2]string{o.Owner, o.Name}] {
-			l = append(l, [2]string{o.Owner, o.Name})
+	for _, other := range c.Objects {
+		if key := [2]string{other.Owner, other.Name}; meant[key] && key != [2]string{o.Owner, o.Name} {
+			l = append(l, key)
 		}
 	}
 	return l
@@ -256,11 +256,11 @@ func expectNamed(t *testing.T, c api.Catalog) {
 	}
 }
 
-// TestCircle: objects that name each other in a circle hang on each other, but not on themselves.
+// TestCircle: objects that name each other in a circle hang on each other, but not on themselves; none names itself.
 func TestCircle(t *testing.T) {
 	c := after(t, users(t, "ann"), "ann: create procedure p is begin q; p; end;", "ann: create procedure q is begin r; end;", "ann: create procedure r is begin p; end;", "ann: create procedure o is begin q; end;")
 	for _, x := range []struct{ key, names, hangs, on string }{
-		{"ann.p", "ann.p ann.q", "ann.q ann.r", "ann.o ann.q ann.r"},
+		{"ann.p", "ann.q", "ann.q ann.r", "ann.o ann.q ann.r"},
 		{"ann.q", "ann.r", "ann.p ann.r", "ann.o ann.p ann.r"},
 		{"ann.r", "ann.p", "ann.p ann.q", "ann.o ann.p ann.q"},
 		{"ann.o", "ann.q", "ann.p ann.q ann.r", ""},
@@ -328,7 +328,7 @@ func sortedBy(c api.Catalog) [][2]string {
 			if has(key) || ready {
 				continue
 			}
-			missing := slices.DeleteFunc(namedBy(c, o), func(to [2]string) bool { return to == key || has(to) })
+			missing := slices.DeleteFunc(namedBy(c, o), has)
 			if ready = len(missing) == 0; ready || at < 0 {
 				at = i
 			}
