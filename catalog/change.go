@@ -6,6 +6,7 @@ import (
 
 	"justiciar/api"
 	"justiciar/clone"
+	"justiciar/object"
 	"justiciar/unit"
 )
 
@@ -70,15 +71,15 @@ func (x *change) do(d *api.Def) {
 }
 
 // mean returns the object that a path means, or nil.
-func (x *change) mean(path []string) *api.Object { return mean(&x.Catalog, x.user, path) }
+func (x *change) mean(path []string) *api.Object { return object.Mean(&x.Catalog, x.user, path) }
 
 // create makes an object, perhaps in place of another one.
 func (x *change) create(o api.Object, replace bool) {
 	if o.Owner == "" {
 		o.Owner = x.user
 	}
-	key := keyOf(&o)
-	old := find(&x.Catalog, key)
+	key := object.Key(&o)
+	old := object.Find(&x.Catalog, key)
 	want(slices.Contains(x.Users, o.Owner), api.ErrName)
 	want(old == nil || replace && old.Kind == o.Kind, api.ErrTwice)
 	want(old != nil || len(x.Objects) < api.MaxObjects, api.ErrLimit)
@@ -101,7 +102,7 @@ func inserted[T any](l []T, x T, compare func(a, b T) int) []T {
 // settle gives the paths of the tables that an object is made for their owners, if these are such tables as it needs.
 func (x *change) settle(o *api.Object) {
 	for _, path := range tablesOf(o) {
-		key := keyOfPath(x.user, *path)
+		key := object.KeyOf(x.user, *path)
 		*path = key[:]
 	}
 	for _, index := range o.Index {
@@ -122,10 +123,10 @@ func (x *change) settle(o *api.Object) {
 
 // table returns the table that a path of two names means, which may be the one that is made, or nil.
 func (x *change) table(path []string, made *api.Object) *api.Table {
-	key := keyOfPath("", path)
+	key := object.KeyOf("", path)
 	o := made
-	if key != keyOf(made) {
-		o = find(&x.Catalog, key)
+	if key != object.Key(made) {
+		o = object.Find(&x.Catalog, key)
 	}
 	if o == nil || o.Kind != api.OTable {
 		return nil
@@ -161,7 +162,7 @@ func kindsOf(t *api.Table, names []string) []api.Kind {
 // stale makes the views and programs that hang on some objects not Valid.
 func (x *change) stale(keys ...[2]string) {
 	for _, key := range linksOf(&x.Catalog).turned().from(keys...) {
-		if o := find(&x.Catalog, key); isRenewed(o.Kind) {
+		if o := object.Find(&x.Catalog, key); isRenewed(o.Kind) {
 			o.Valid = false
 		}
 	}
@@ -171,11 +172,11 @@ func (x *change) stale(keys ...[2]string) {
 func (x *change) drop(o, like *api.Object) {
 	want(o != nil, api.ErrNone)
 	want(o.Kind == like.Kind && (o.Kind != api.OProc || o.Unit[0].Subs[0].Fun == like.Unit[0].Subs[0].Fun), api.ErrKind)
-	gone := [][2]string{keyOf(o)}
+	gone := [][2]string{object.Key(o)}
 	if o.Kind == api.OTable {
 		for _, other := range x.madeFor(o) {
 			want(other.Kind != api.OTable, api.ErrUsed)
-			gone = append(gone, keyOf(other))
+			gone = append(gone, object.Key(other))
 		}
 	}
 	x.remove(gone...)
@@ -183,7 +184,7 @@ func (x *change) drop(o, like *api.Object) {
 
 // madeFor returns the other objects that are made for a table: tables with foreign keys to it, and its indexes and triggers.
 func (x *change) madeFor(o *api.Object) []*api.Object {
-	isIt := func(path *[]string) bool { return keyOfPath("", *path) == keyOf(o) }
+	isIt := func(path *[]string) bool { return object.KeyOf("", *path) == object.Key(o) }
 	var l []*api.Object
 	for i := range x.Objects {
 		if other := &x.Objects[i]; other != o && slices.ContainsFunc(tablesOf(other), isIt) {
@@ -196,7 +197,7 @@ func (x *change) madeFor(o *api.Object) []*api.Object {
 // remove takes objects away, with all rights to them.
 func (x *change) remove(keys ...[2]string) {
 	x.stale(keys...)
-	x.Objects = slices.DeleteFunc(x.Objects, func(o api.Object) bool { return slices.Contains(keys, keyOf(&o)) })
+	x.Objects = slices.DeleteFunc(x.Objects, func(o api.Object) bool { return slices.Contains(keys, object.Key(&o)) })
 	x.Grants = slices.DeleteFunc(x.Grants, func(g api.Grant) bool { return slices.Contains(keys, keyOfGrant(g)) })
 }
 
@@ -208,7 +209,7 @@ func (x *change) add(o *api.Object, c api.Column) {
 	want(len(t.Cols) < api.MaxCols, api.ErrLimit)
 	t.Cols = append(t.Cols, c)
 	o.Stamp = x.Stamp
-	x.stale(keyOf(o))
+	x.stale(object.Key(o))
 }
 
 // grantOf returns the right that a definition grants or revokes.

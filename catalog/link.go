@@ -5,6 +5,7 @@ import (
 
 	"justiciar/api"
 	"justiciar/grammar"
+	"justiciar/object"
 	"justiciar/part"
 )
 
@@ -21,7 +22,7 @@ type links struct {
 func linksOf(c *api.Catalog) links {
 	l := links{to: map[[2]string][][2]string{}}
 	for i := range c.Objects {
-		key := keyOf(&c.Objects[i])
+		key := object.Key(&c.Objects[i])
 		l.all = append(l.all, key)
 		l.to[key] = namesOf(c, &c.Objects[i])
 	}
@@ -31,11 +32,11 @@ func linksOf(c *api.Catalog) links {
 // namesOf returns the other objects of a catalog that one of them names, rising.
 func namesOf(c *api.Catalog, o *api.Object) [][2]string {
 	meant := set{}
-	showPaths(o, func(path []string) { meant[keyOfPath(o.Owner, path)] = true })
-	meant[keyOf(o)] = false // what an object names is another one
+	showPaths(o, func(path []string) { meant[object.KeyOf(o.Owner, path)] = true })
+	meant[object.Key(o)] = false // what an object names is another one
 	var l [][2]string
 	for i := range c.Objects {
-		if key := keyOf(&c.Objects[i]); meant[key] {
+		if key := object.Key(&c.Objects[i]); meant[key] {
 			l = append(l, key)
 		}
 	}

@@ -7,6 +7,7 @@ import (
 	"justiciar/api"
 	"justiciar/expr"
 	"justiciar/grammar"
+	"justiciar/object"
 	"justiciar/unit"
 )
 
@@ -30,14 +31,14 @@ func rise[T any](l []T, compare func(a, b T) int) bool {
 	return true
 }
 
-func compareObjects(a, b api.Object) int { return compareKeys(keyOf(&a), keyOf(&b)) }
+func compareObjects(a, b api.Object) int { return compareKeys(object.Key(&a), object.Key(&b)) }
 
 func compareGrants(a, b api.Grant) int {
 	return cmp.Or(cmp.Compare(a.Right, b.Right), compareKeys(keyOfGrant(a), keyOfGrant(b)), cmp.Compare(a.To, b.To))
 }
 
 func rightGrant(c *api.Catalog, g *api.Grant) bool {
-	return api.RSelect <= g.Right && g.Right <= api.RExecute && find(c, keyOfGrant(*g)) != nil && isReceiver(c, g.To) && g.To != g.Owner
+	return api.RSelect <= g.Right && g.Right <= api.RExecute && object.Find(c, keyOfGrant(*g)) != nil && isReceiver(c, g.To) && g.To != g.Owner
 }
 
 // isReceiver reports whether a right may be granted to somebody.

@@ -16,23 +16,25 @@ func list[T any](l []T, copyOf func(x T) T) []T {
 	return c
 }
 
-func exprs(l []api.Expr) []api.Expr { return list(l, expr) }
+func exprs(l []api.Expr) []api.Expr { return list(l, Expr) }
 
-func expr(e api.Expr) api.Expr {
+// Expr returns a copy of an expression.
+func Expr(e api.Expr) api.Expr {
 	e.Path, e.Kids, e.Query = slices.Clone(e.Path), exprs(e.Kids), queries(e.Query)
 	return e
 }
 
-func queries(l []api.Query) []api.Query { return list(l, query) }
+func queries(l []api.Query) []api.Query { return list(l, Query) }
 
-func query(q api.Query) api.Query {
+// Query returns a copy of a query.
+func Query(q api.Query) api.Query {
 	q.List, q.From, q.Order = list(q.List, item), list(q.From, source), list(q.Order, order)
 	q.Where, q.Group, q.Having = exprs(q.Where), exprs(q.Group), exprs(q.Having)
 	return q
 }
 
 func item(x api.Item) api.Item {
-	x.Expr = expr(x.Expr)
+	x.Expr = Expr(x.Expr)
 	return x
 }
 
@@ -42,11 +44,12 @@ func source(s api.Source) api.Source {
 }
 
 func order(o api.Order) api.Order {
-	o.Expr = expr(o.Expr)
+	o.Expr = Expr(o.Expr)
 	return o
 }
 
-func change(x api.Change) api.Change {
+// Change returns a copy of a change.
+func Change(x api.Change) api.Change {
 	x.Path, x.Cols = slices.Clone(x.Path), slices.Clone(x.Cols)
 	x.Vals, x.Query, x.Where = exprs(x.Vals), queries(x.Query), exprs(x.Where)
 	return x
@@ -57,7 +60,7 @@ func stmts(l []api.Stmt) []api.Stmt { return list(l, stmt) }
 func stmt(s api.Stmt) api.Stmt {
 	s.Path, s.Target, s.Exprs = slices.Clone(s.Path), exprs(s.Target), exprs(s.Exprs)
 	s.Bodies, s.Block = list(s.Bodies, stmts), list(s.Block, block)
-	s.Query, s.Change = queries(s.Query), list(s.Change, change)
+	s.Query, s.Change = queries(s.Query), list(s.Change, Change)
 	return s
 }
 

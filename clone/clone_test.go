@@ -73,6 +73,14 @@ func expectCopy[T any](t *testing.T, copyOf func(x T) T, deep int) {
 	}
 }
 
+func TestParts(t *testing.T) {
+	for deep := range 7 {
+		expectCopy(t, clone.Expr, deep)
+		expectCopy(t, clone.Query, deep)
+		expectCopy(t, clone.Change, deep)
+	}
+}
+
 func TestObject(t *testing.T) {
 	for deep := range 7 {
 		expectCopy(t, clone.Object, deep)

@@ -1,0 +1,119 @@
+package resolve
+
+import (
+	"cmp"
+	"strings"
+
+	"justiciar/api"
+	"justiciar/kind"
+	"justiciar/value"
+)
+
+// place is where an expression stands, with the errors of what must not stand there.
+type place struct {
+	*scope
+	aggregate, query api.Errno
+}
+
+// open is a place where all may stand.
+func open(s *scope) place { return place{scope: s} }
+
+// single is a place where no aggregate may stand, as there are no groups of rows.
+func single(s *scope) place { return place{scope: s, aggregate: api.ErrGroup} }
+
+// plain is a place where neither an aggregate nor a query may stand.
+func plain(s *scope) place { return place{s, api.ErrKind, api.ErrKind} }
+
+// exprs settles the names in expressions, and returns the kinds of these.
+func (r *resolver) exprs(l []api.Expr, p place) []api.Kind {
+	var kinds []api.Kind
+	for i := range l {
+		kinds = append(kinds, r.expr(&l[i], p))
+	}
+	return kinds
+}
+
+// expr settles the names in an expression, and returns its kind.
+func (r *resolver) expr(e *api.Expr, p place) api.Kind {
+	kids := r.exprs(e.Kids, p.ofKids(e))
+	switch e.Op {
+	case api.EConst:
+		return e.Val.Kind
+	case api.EName:
+		return r.name(e, p.scope)
+	case api.EUnary, api.EBinary:
+		k, code := kind.Operation(e.Text, kids...)
+		want(code == api.OK, exprFault{code, e})
+		return k
+	case api.ENull:
+		return api.VBool
+	case api.EIn, api.EBetween:
+		alike(e.Kids, kids, func(int) bool { return true })
+		return api.VBool
+	case api.ECase:
+		return choice(e.Kids, kids)
+	case api.ECall, api.EStar:
+		return call(e, kids, p)
+	case api.EQuery, api.EExists:
+		return r.inner(e, p)
+	}
+	panic(exprFault{api.ErrKind, e}) // an EMark
+}
+
+// ofKids returns the place of an expression's Kids.
+func (p place) ofKids(e *api.Expr) place {
+	if isAggregate(e) && p.aggregate == api.OK {
+		p.aggregate = api.ErrGroup
+	}
+	return p
+}
+
+func isAggregate(e *api.Expr) bool {
+	return e.Op == api.EStar || e.Op == api.ECall && len(e.Path) == 1 && value.IsAggregate(e.Path[0])
+}
+
+// call returns the kind of what a function or an aggregate gives.
+func call(e *api.Expr, kids []api.Kind, p place) api.Kind {
+	if isAggregate(e) {
+		want(p.aggregate == api.OK, exprFault{p.aggregate, e})
+	}
+	if e.Op == api.EStar {
+		return api.VInt
+	}
+	k, code := kind.Call(strings.Join(e.Path, "."), kids...)
+	want(code == api.OK, exprFault{code, e})
+	return k
+}
+
+// choice returns the kind of what a case gives, of its Kids: these are conditions, each with what is given then, and perhaps one more, that is given else.
+func choice(l []api.Expr, kinds []api.Kind) api.Kind {
+	isCondition := func(i int) bool { return i%2 == 0 && i < len(l)-1 }
+	for i, k := range kinds {
+		want(!isCondition(i) || kind.Fit(k, api.VBool), exprFault{api.ErrType, &l[i]})
+	}
+	return alike(l, kinds, func(i int) bool { return !isCondition(i) })
+}
+
+// alike returns the one kind of the expressions that a closure wants.
+func alike(l []api.Expr, kinds []api.Kind, wanted func(i int) bool) api.Kind {
+	common := api.VNull
+	for i, k := range kinds {
+		if wanted(i) {
+			want(kind.Fit(k, common), exprFault{api.ErrType, &l[i]})
+			common = cmp.Or(common, k)
+		}
+	}
+	return common
+}
+
+// inner settles the names in the query of an expression, and returns the kind of the expression.
+func (r *resolver) inner(e *api.Expr, p place) api.Kind {
+	want(p.query == api.OK, exprFault{p.query, e})
+	want(p.queries < maxQueries, exprFault{api.ErrDeep, e})
+	names := r.query(&e.Query[0], p.scope)
+	if e.Op == api.EExists {
+		return api.VBool
+	}
+	want(len(names) == 1, exprFault{api.ErrCount, e})
+	return names[0].Type
+}
