@@ -420,3 +420,66 @@ func TestLawAgain(t *testing.T) {
 		t.Errorf("only %d views", views)
 	}
 }
+
+// over returns a path of a table, over which expressions are made from now on, and its columns.
+func (m *maker) over() (string, []api.Named) {
+	path := map[string]string{"u": m.pick("t", "s", "one", "u.t", "w.t"), "w": m.pick("t", "w.t", "u.t", "u.s", "u.one")}[m.user]
+	cols := m.columns(path)
+	m.sources, m.scopes = 0, [][]written{{{path[strings.Index(path, ".")+1:], cols}}}
+	return path, cols
+}
+
+// TestLawParts: what a change, or an expression over a table, has in it means what it means in a query of the table.
+func TestLawParts(t *testing.T) {
+	right := map[string]int{}
+	compare := func(what string, q api.Query, f, fQuery api.Fault, found, inQuery any) {
+		t.Helper()
+		if f != fQuery || f == (api.Fault{}) && !equal(found, inQuery) {
+			t.Errorf("%s, as in %s: %v and %v: %s and %s", what, shownQuery(q), f, fQuery, encoded(found), encoded(inQuery))
+		}
+		if f == (api.Fault{}) {
+			right[what]++
+		}
+	}
+	walk(t, 40, 1000, func(m *maker, x call, _ api.Query) {
+		path, cols := m.over()
+		col := cols[m.IntN(len(cols))]
+		q := queryOf(t, "select "+m.expr(col.Type, m.IntN(3), false)+" from "+path+" where "+m.expr(api.VBool, m.IntN(3), false))
+		r, _, f := x.query(t, q)
+		update := api.Change{Op: api.CUpdate, Path: q.From[0].Path, Cols: []string{col.Name}, Vals: []api.Expr{q.List[0].Expr}, Where: q.Where}
+		found, fChange := x.change(t, update)
+		if f == (api.Fault{}) {
+			compare("update", q, fChange, f, [][]api.Expr{found.Vals, found.Where}, [][]api.Expr{{r.List[0].Expr}, r.Where})
+		} else {
+			compare("update", q, fChange, f, nil, nil)
+		}
+
+		q.List = []api.Item{{Expr: exprOf(t, "1")}}
+		r, _, f = x.query(t, q)
+		found, fChange = x.change(t, api.Change{Op: api.CDelete, Path: update.Path, Where: q.Where})
+		compare("delete", q, fChange, f, found.Where, r.Where)
+
+		m.scopes = nil
+		q = queryOf(t, m.query(col.Type))
+		r, _, f = x.query(t, q)
+		found, fChange = x.change(t, api.Change{Op: api.CInsert, Path: update.Path, Cols: update.Cols, Query: []api.Query{q}})
+		compare("insert", q, fChange, f, found.Query, []api.Query{r}[:len(found.Query)])
+	})
+	walk(t, 50, 1000, func(m *maker, x call, _ api.Query) {
+		path, _ := m.over()
+		q := queryOf(t, "select "+m.expr(m.kind(), m.IntN(4), true)+" as r from "+path)
+		r, l, f := x.query(t, q)
+		o, _ := catalog.Mean(x.c, x.user, q.From[0].Path)
+		e, k, fExpr := call{x.c, o.Owner, x.binds}.expr(t, o.Name, q.List[0].Expr)
+		if f == (api.Fault{}) {
+			compare("expression", q, fExpr, f, []any{e, k}, []any{r.List[0].Expr, l[0].Type})
+		} else {
+			compare("expression", q, fExpr, f, nil, nil)
+		}
+	})
+	for _, what := range []string{"update", "delete", "insert", "expression"} {
+		if right[what] < 300 {
+			t.Error(right)
+		}
+	}
+}
