@@ -52,7 +52,7 @@ func (s *scope) columns(name string, wanted func(x source) bool) [][2]int {
 
 // column returns where the column is that a name means in this very scope; false, if it means something further out, or a bind.
 func (s *scope) column(e *api.Expr) ([2]int, bool) {
-	name := e.Path[len(e.Path)-1]
+	name := last(e.Path)
 	var l [][2]int
 	switch len(e.Path) {
 	case 1:
