@@ -28,9 +28,8 @@ func (r *resolver) change(x *api.Change) {
 	} else {
 		want(len(x.Vals) == len(kinds), changeFault{code: api.ErrCount, at: x})
 	}
-	vals, where := r.exprs(x.Vals, single(s)), r.exprs(x.Where, single(s))
-	wantKinds(x.Vals, vals, kinds...)
-	wantKinds(x.Where, where, api.VBool)
+	r.values(x.Vals, single(s), kinds...)
+	r.values(x.Where, single(s), api.VBool)
 	x.Path = []string{o.Owner, o.Name}
 }
 

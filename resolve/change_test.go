@@ -47,13 +47,27 @@ func TestChangeFaults(t *testing.T) {
 		{"^update t set a = y, zzz = 1", api.ErrName, "zzz"}, {"^update t set c = y, c = 1", api.ErrTwice, "c"}, {"^update t set v = 1", api.ErrName, "v"},
 		{"^insert into t values (y, 1)", api.ErrCount, ""}, {"^insert into t values (1, 'x', true, 1)", api.ErrCount, ""}, {"^insert into t (a) values (y, 'x')", api.ErrCount, ""}, {"^insert into t (a, b) values ('x')", api.ErrCount, ""},
 		{"^insert into t select a, b from t", api.ErrCount, ""}, {"insert into t (a) select ^b, y from s where false", api.ErrName, "b"}, {"^insert into t (b) select * from s", api.ErrCount, ""}, {"^insert into one select k, k from one", api.ErrCount, ""},
-		{"insert into t (a, b) values (^y, 1)", api.ErrName, "y"}, {"insert into t (a, b) values ('x', ^y)", api.ErrName, "y"}, {"insert into t (a, b) values (1, ^t.b)", api.ErrName, "t.b"}, {"insert into t (b) values (^b)", api.ErrName, "b"}, {"insert into t (a) values ((select x from s where ^t.a = 1))", api.ErrName, "t.a"},
+		{"insert into t (a, b) values (^y, 1)", api.ErrName, "y"}, {"insert into t (b, a) values ('x', ^y)", api.ErrName, "y"}, {"insert into t (a, b) values (1, ^t.b)", api.ErrName, "t.b"}, {"insert into t (b) values (^b)", api.ErrName, "b"}, {"insert into t (a) values ((select x from s where ^t.a = 1))", api.ErrName, "t.a"},
 		{"insert into t (a, b) values (1, ^v)", api.ErrType, "v"}, {"insert into t (a, c) values (^'x', 1)", api.ErrType, ""}, {"insert into t (a, c) values (null, 1 ^+ 1)", api.ErrType, "+"}, {"insert into t values (1, 'x', ^(select a from t))", api.ErrType, ""}, {"insert into t values (1, 2 ^+ 'x', 3)", api.ErrType, "+"},
 		{"insert into t (a, b) ^select x, a from s", api.ErrType, ""}, {"insert into t (a, b, c) ^select b, b, b from t", api.ErrType, ""}, {"insert into one ^select c from t", api.ErrType, ""}, {"insert into t (a) select ^y from t", api.ErrName, "y"}, {"insert into t (a) select 1 from ^none", api.ErrName, "none"}, {"insert into t (a) select 1 from s where ^x", api.ErrType, "x"},
 		{"insert into t (a) values (^count(*))", api.ErrGroup, "count"}, {"insert into t (a) values (1 + ^max(1))", api.ErrGroup, "max"}, {"insert into t (a) values (^sum(1, 2))", api.ErrGroup, "sum"}, {"update t set a = ^sum(a)", api.ErrGroup, "sum"}, {"update t set a = 1 where ^count(a) = 1", api.ErrGroup, "count"}, {"delete from t where ^count(*) = 1", api.ErrGroup, "count"}, {"delete from t where 1 = (select 1 from s where ^count(*) = 1)", api.ErrGroup, "count"},
-		{"update t set a = ^w.a", api.ErrName, "w.a"}, {"update t set a = ^u.t.a", api.ErrName, "u.t.a"}, {"update w.t set d = ^w.d", api.ErrName, "w.d"}, {"update t set a = 'x', b = ^y", api.ErrName, "y"}, {"update t set a = 'x' where ^y", api.ErrName, "y"},
+		{"update t set a = ^w.a", api.ErrName, "w.a"}, {"update t set a = ^u.t.a", api.ErrName, "u.t.a"}, {"update w.t set d = ^w.d", api.ErrName, "w.d"},
 		{"update t set a = ^b where 1", api.ErrType, "b"}, {"update t set b = 'x', a = ^true where a", api.ErrType, ""}, {"update t set b = ^v", api.ErrType, "v"}, {"update t set a = 1 where ^a", api.ErrType, "a"}, {"update t set a = 1 where a ^+ 1", api.ErrType, "+"}, {"update t set a = (select ^y from w.t)", api.ErrName, "y"}, {"update t set a = ^(select a, b from t)", api.ErrCount, ""},
 		{"delete from t where ^b", api.ErrType, "b"}, {"delete from t where ^1", api.ErrType, ""}, {"delete from t where ^y", api.ErrName, "y"}, {"delete from t where exists (select 1 from ^bad)", api.ErrName, "bad"}, {"delete from t where exists (select 1 from ^w.bad)", api.ErrBad, "w.bad"}, {"delete from t where ^c%found", api.ErrKind, "c"},
+	} {
+		x.expectChangeFault(t, one.s, one.code, one.name)
+	}
+}
+
+// P7.2: of several faults of a change the one whose token comes first, be it one within a value, or that the value is of another kind than its column; but those of the change itself first.
+func TestChangeFirstFault(t *testing.T) {
+	x := call{world(t), "u", variables()}
+	for _, one := range []expected{
+		{"update t set a = ^'x', b = y", api.ErrType, ""}, {"update t set a = ^'x' where y", api.ErrType, ""}, {"update t set a = ^b where 1", api.ErrType, "b"}, {"update t set a = 1, b = ^2, c = y where y", api.ErrType, ""},
+		{"update t set a = ^y, b = 1", api.ErrName, "y"}, {"update t set a = 1, b = ^y, c = 1", api.ErrName, "y"}, {"update t set a = 1, b = 'x' where ^y", api.ErrName, "y"}, {"update t set b = 1 ^+ 'x', a = 'x'", api.ErrType, "+"}, {"update t set b = 1 + ^y, a = 'x'", api.ErrName, "y"}, {"update t set b = v ^+ 1 where y", api.ErrType, "+"},
+		{"insert into t (a, b) values (^'x', y)", api.ErrType, ""}, {"insert into t (b, a) values (^v, count(*))", api.ErrType, "v"}, {"insert into t (a, b) values (^count(*), 1)", api.ErrGroup, "count"}, {"insert into t values (1, ^(select x from s), (select y from none))", api.ErrType, ""}, {"insert into t values (null, (select x from ^none), 1)", api.ErrName, "none"},
+		{"^update t set a = 'x', zzz = y", api.ErrName, "zzz"}, {"^update t set a = y, a = 'x'", api.ErrTwice, "a"}, {"^insert into t (a, b) values ('x', 1, y)", api.ErrCount, ""}, {"^insert into t (a, zzz) values ('x', y)", api.ErrName, "zzz"},
+		{"insert into t (a, b) ^select b, a from t where true", api.ErrType, ""}, {"insert into t (a, b) select b, a from t where ^y", api.ErrName, "y"},
 	} {
 		x.expectChangeFault(t, one.s, one.code, one.name)
 	}

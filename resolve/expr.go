@@ -33,6 +33,13 @@ func (r *resolver) exprs(l []api.Expr, p place) []api.Kind {
 	return kinds
 }
 
+// values settles the names in expressions that should be of some kinds. A fault of one of them, its kind's as well, comes ahead of all those of the next one.
+func (r *resolver) values(l []api.Expr, p place, kinds ...api.Kind) {
+	for i := range l {
+		want(kind.Fit(r.expr(&l[i], p), kinds[i]), exprFault{api.ErrType, &l[i]})
+	}
+}
+
 // expr settles the names in an expression, and returns its kind.
 func (r *resolver) expr(e *api.Expr, p place) api.Kind {
 	kids := r.exprs(e.Kids, p.ofKids(e))

@@ -74,9 +74,9 @@ func want(ok bool, fault any) {
 	}
 }
 
-// wantKinds raises a fault at the first of some expressions, whose kinds are known, that is not of the kind that it should be.
-func wantKinds(l []api.Expr, kinds []api.Kind, wanted ...api.Kind) {
+// wantBools raises a fault at the first of some expressions, whose kinds are known, that is no bool.
+func wantBools(l []api.Expr, kinds []api.Kind) {
 	for i, k := range kinds {
-		want(kind.Fit(k, wanted[i]), exprFault{api.ErrType, &l[i]})
+		want(kind.Fit(k, api.VBool), exprFault{api.ErrType, &l[i]})
 	}
 }

@@ -1,6 +1,7 @@
 package resolve_test
 
 import (
+	"cmp"
 	"fmt"
 	"math/rand/v2"
 	"regexp"
@@ -481,5 +482,46 @@ func TestLawParts(t *testing.T) {
 		if right[what] < 300 {
 			t.Error(right)
 		}
+	}
+}
+
+// TestLawFirst: of several faults of an update (P7.2) the first one, so that it has that of the first of its parts that has one on its own.
+func TestLawFirst(t *testing.T) {
+	several := 0
+	walk(t, 60, 1000, func(m *maker, x call, _ api.Query) {
+		path, cols := m.over()
+		update := api.Change{Op: api.CUpdate, Path: strings.Split(path, ".")}
+		part := func(k api.Kind, col int) []api.Expr {
+			if m.chance(4) {
+				k = m.kind()
+			}
+			e := exprOf(t, m.expr(k, m.IntN(3), false))
+			e.Line = col
+			return []api.Expr{e}
+		}
+		var alone []api.Change
+		for i, col := range cols {
+			one := api.Change{Op: api.CUpdate, Path: update.Path, Cols: []string{col.Name}, Vals: part(col.Type, i+1)}
+			update.Cols, update.Vals, alone = append(update.Cols, col.Name), append(update.Vals, one.Vals...), append(alone, one)
+		}
+		update.Where = part(api.VBool, len(cols)+1)
+		alone = append(alone, api.Change{Op: api.CDelete, Path: update.Path, Where: update.Where})
+		var first api.Fault
+		faults := 0
+		for _, one := range alone {
+			if _, f := x.change(t, one); f != (api.Fault{}) {
+				first = cmp.Or(first, f)
+				faults++
+			}
+		}
+		if _, f := x.change(t, update); f != first {
+			t.Errorf("%s: %v, of its parts alone %v", shownChange(update), f, first)
+		}
+		if faults > 1 {
+			several++
+		}
+	})
+	if several < 100 {
+		t.Errorf("only %d changes had several faults", several)
 	}
 }

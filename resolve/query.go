@@ -21,8 +21,8 @@ func (r *resolver) query(q *api.Query, around *scope) []api.Named {
 	for i := range q.Order {
 		r.expr(&q.Order[i].Expr, open(s))
 	}
-	wantKinds(q.Where, where, api.VBool)
-	wantKinds(q.Having, having, api.VBool)
+	wantBools(q.Where, where)
+	wantBools(q.Having, having)
 	grouped := isGrouped(q)
 	if grouped {
 		wantGroups(q)
@@ -39,7 +39,7 @@ func (r *resolver) source(x *api.Source, s *scope) {
 	want(len(s.sources) < api.MaxJoin, sourceFault{api.ErrLimit, x})
 	o, cols, code := r.readable(x.Path)
 	want(code == api.OK, sourceFault{code, x})
-	wantKinds(x.AsOf, r.exprs(x.AsOf, plain(&scope{})), api.VInt)
+	r.values(x.AsOf, plain(&scope{}), api.VInt)
 	name := cmp.Or(x.As, last(x.Path))
 	want(!s.has(name), sourceFault{api.ErrTwice, x})
 	s.sources = append(s.sources, source{name, cols, o.Kind == api.OView})
