@@ -7,34 +7,25 @@ import (
 	"justiciar/api"
 	"justiciar/expr"
 	"justiciar/grammar"
+	"justiciar/list"
 	"justiciar/object"
 	"justiciar/unit"
 )
 
 func isValid(c *api.Catalog) bool {
 	return 0 <= c.Stamp && c.Stamp <= api.MaxInt && areUsers(c.Users) &&
-		len(c.Objects) <= api.MaxObjects && rise(c.Objects, compareObjects) && grammar.Each(c.Objects, func(o *api.Object) bool { return rightObject(c, o) }) &&
-		rise(c.Grants, compareGrants) && grammar.Each(c.Grants, func(g *api.Grant) bool { return rightGrant(c, g) })
+		len(c.Objects) <= api.MaxObjects && list.Rise(c.Objects, compareObjects) && list.Each(c.Objects, func(o *api.Object) bool { return rightObject(c, o) }) &&
+		list.Rise(c.Grants, compareGrants) && list.Each(c.Grants, func(g *api.Grant) bool { return rightGrant(c, g) })
 }
 
 func areUsers(l []string) bool {
-	return len(l) <= api.MaxUsers && rise(l, cmp.Compare) && grammar.Each(l, grammar.IsName)
+	return len(l) <= api.MaxUsers && list.Rise(l, cmp.Compare) && list.Each(l, grammar.IsName)
 }
 
-// rise reports whether the elements of a list rise, and are all different.
-func rise[T any](l []T, compare func(a, b T) int) bool {
-	for i := 1; i < len(l); i++ {
-		if compare(l[i-1], l[i]) >= 0 {
-			return false
-		}
-	}
-	return true
-}
-
-func compareObjects(a, b api.Object) int { return compareKeys(object.Key(&a), object.Key(&b)) }
+func compareObjects(a, b api.Object) int { return object.Compare(object.Key(&a), object.Key(&b)) }
 
 func compareGrants(a, b api.Grant) int {
-	return cmp.Or(cmp.Compare(a.Right, b.Right), compareKeys(keyOfGrant(a), keyOfGrant(b)), cmp.Compare(a.To, b.To))
+	return cmp.Or(cmp.Compare(a.Right, b.Right), object.Compare(keyOfGrant(a), keyOfGrant(b)), cmp.Compare(a.To, b.To))
 }
 
 func rightGrant(c *api.Catalog, g *api.Grant) bool {
@@ -47,7 +38,7 @@ func isReceiver(c *api.Catalog, to string) bool { return to == "all" || slices.C
 func rightObject(c *api.Catalog, o *api.Object) bool {
 	return slices.Contains(c.Users, o.Owner) && 1 <= o.Stamp && o.Stamp <= c.Stamp && (o.Valid || isRenewed(o.Kind)) &&
 		!slices.ContainsFunc(tablesOf(o), func(path *[]string) bool { return len(*path) != 2 }) &&
-		grammar.Each(o.Table, rightExprs) && unit.ValidDef(definitionOf(*o))
+		list.Each(o.Table, rightExprs) && unit.ValidDef(definitionOf(*o))
 }
 
 // definitionOf returns the definition that makes an object, but with constants in the place of a table's expressions: these may have more nodes altogether than a definition.
@@ -75,6 +66,6 @@ func withConstants(t api.Table) api.Table {
 // rightExprs reports whether all expressions of a table are valid.
 func rightExprs(t *api.Table) bool {
 	valid := func(e *api.Expr) bool { return expr.Valid(*e) }
-	return grammar.Each(t.Cols, func(c *api.Column) bool { return grammar.Each(c.Default, valid) }) &&
-		grammar.Each(t.Cons, func(c *api.Constraint) bool { return grammar.Each(c.Expr, valid) })
+	return list.Each(t.Cols, func(c *api.Column) bool { return list.Each(c.Default, valid) }) &&
+		list.Each(t.Cons, func(c *api.Constraint) bool { return list.Each(c.Expr, valid) })
 }

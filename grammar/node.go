@@ -4,6 +4,7 @@ import (
 	"iter"
 
 	"justiciar/api"
+	"justiciar/list"
 )
 
 // Node is an expression, a query, a source or a change: just one of them is not nil.
@@ -34,25 +35,15 @@ func (n Node) visit(yield func(Node) bool) bool {
 	order := func(o *api.Order) bool { return expr(&o.Expr) }
 	switch {
 	case n.Expr != nil:
-		return Each(n.Expr.Kids, expr) && Each(n.Expr.Query, query)
+		return list.Each(n.Expr.Kids, expr) && list.Each(n.Expr.Query, query)
 	case n.Query != nil:
 		q := n.Query
-		return Each(q.List, item) && Each(q.From, source) && Each(q.Where, expr) &&
-			Each(q.Group, expr) && Each(q.Having, expr) && Each(q.Order, order)
+		return list.Each(q.List, item) && list.Each(q.From, source) && list.Each(q.Where, expr) &&
+			list.Each(q.Group, expr) && list.Each(q.Having, expr) && list.Each(q.Order, order)
 	case n.Source != nil:
-		return Each(n.Source.AsOf, expr)
+		return list.Each(n.Source.AsOf, expr)
 	case n.Change != nil:
-		return Each(n.Change.Vals, expr) && Each(n.Change.Query, query) && Each(n.Change.Where, expr)
-	}
-	return true
-}
-
-// Each reports whether all elements of a list are as a closure wants; it goes no further than to the first that is not.
-func Each[T any](l []T, wanted func(x *T) bool) bool {
-	for i := range l {
-		if !wanted(&l[i]) {
-			return false
-		}
+		return list.Each(n.Change.Vals, expr) && list.Each(n.Change.Query, query) && list.Each(n.Change.Where, expr)
 	}
 	return true
 }

@@ -5,6 +5,7 @@ import (
 
 	"justiciar/api"
 	"justiciar/lex"
+	"justiciar/list"
 	"justiciar/value"
 )
 
@@ -112,7 +113,7 @@ func rightFields(e api.Expr) bool {
 }
 
 func rightQuery(q *api.Query) bool {
-	return q.Star == (len(q.List) == 0) && len(q.List) <= api.MaxCols && Each(q.List, rightItem) &&
+	return q.Star == (len(q.List) == 0) && len(q.List) <= api.MaxCols && list.Each(q.List, rightItem) &&
 		len(q.From) >= 1 && len(q.From) <= maxSources && len(q.Where) <= 1 && len(q.Having) <= 1 &&
 		len(q.Group) <= maxKeys && len(q.Order) <= maxKeys
 }
@@ -124,7 +125,7 @@ func rightSource(s *api.Source) bool {
 }
 
 func rightChange(x *api.Change) bool {
-	return IsPath(x.Path, 2) && len(x.Cols) <= api.MaxCols && Each(x.Cols, IsName) && len(x.Vals) <= api.MaxCols && len(x.Where) <= 1 && rightParts(x)
+	return IsPath(x.Path, 2) && len(x.Cols) <= api.MaxCols && list.Each(x.Cols, IsName) && len(x.Vals) <= api.MaxCols && len(x.Where) <= 1 && rightParts(x)
 }
 
 // rightParts reports whether a change has the parts that its Op wants, and no others.
@@ -142,7 +143,7 @@ func rightParts(x *api.Change) bool {
 
 // IsPath reports whether a path is names, one at least, and not too many.
 func IsPath(path []string, most int) bool {
-	return 1 <= len(path) && len(path) <= most && Each(path, IsName)
+	return 1 <= len(path) && len(path) <= most && list.Each(path, IsName)
 }
 
 // IsName reports whether a string is a name.

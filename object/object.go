@@ -1,10 +1,19 @@
 // Package object finds objects in catalogs, which it does not look at otherwise: layer 6 says whether they are valid.
 package object
 
-import "justiciar/api"
+import (
+	"cmp"
+
+	"justiciar/api"
+)
 
 // Key returns an object's owner and name.
 func Key(o *api.Object) [2]string { return [2]string{o.Owner, o.Name} }
+
+// Compare says which of two objects comes first, by owner and name.
+func Compare(a, b [2]string) int {
+	return cmp.Or(cmp.Compare(a[0], b[0]), cmp.Compare(a[1], b[1]))
+}
 
 // KeyOf returns the owner and name that a path of one name, or the first two of a path, say for a schema.
 func KeyOf(schema string, path []string) [2]string {

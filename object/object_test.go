@@ -1,6 +1,7 @@
 package object_test
 
 import (
+	"cmp"
 	"testing"
 
 	"justiciar/api"
@@ -51,5 +52,16 @@ func TestKeyOf(t *testing.T) {
 	}
 	if k := object.KeyOf("a", []string{"b", "t", "c"}); k != [2]string{"b", "t"} {
 		t.Error(k)
+	}
+}
+
+func TestCompare(t *testing.T) {
+	l := [][2]string{{"", ""}, {"", "b"}, {"a", ""}, {"a", "b"}, {"a", "c"}, {"ab", "a"}, {"b", "a"}}
+	for i := range l {
+		for j := range l {
+			if got := object.Compare(l[i], l[j]); got != cmp.Compare(i, j) {
+				t.Error(l[i], l[j], got)
+			}
+		}
 	}
 }

@@ -4,6 +4,7 @@ package part
 import (
 	"justiciar/api"
 	"justiciar/grammar"
+	"justiciar/list"
 )
 
 // Part is a statement, a declaration, a handler or a sub, or a whole expression, query or change (Node).
@@ -28,43 +29,43 @@ func (look Looker) Query(q *api.Query) bool { return look(Part{Node: grammar.Nod
 func (look Looker) Change(x *api.Change) bool { return look(Part{Node: grammar.Node{Change: x}}) }
 
 func (look Looker) decl(d *api.Decl) bool {
-	return look(Part{Decl: d}) && grammar.Each(d.Init, look.expr) && grammar.Each(d.Query, look.Query)
+	return look(Part{Decl: d}) && list.Each(d.Init, look.expr) && list.Each(d.Query, look.Query)
 }
 
 // Block shows the parts of a block whose statements are at a level.
 func (look Looker) Block(b *api.Block, level int) bool {
 	handler := func(h *api.Handler) bool { return look(Part{Handler: h}) && look.stmts(h.Body, level+1) }
-	return grammar.Each(b.Decls, look.decl) && look.stmts(b.Body, level) && grammar.Each(b.When, handler)
+	return list.Each(b.Decls, look.decl) && look.stmts(b.Body, level) && list.Each(b.When, handler)
 }
 
 func (look Looker) stmts(l []api.Stmt, level int) bool {
-	return grammar.Each(l, func(s *api.Stmt) bool { return look.stmt(s, level) })
+	return list.Each(l, func(s *api.Stmt) bool { return look.stmt(s, level) })
 }
 
 func (look Looker) stmt(s *api.Stmt, level int) bool {
 	body := func(l *[]api.Stmt) bool { return look.stmts(*l, level+1) }
 	block := func(b *api.Block) bool { return look.Block(b, level+1) }
 	return look(Part{Stmt: s, Level: level}) &&
-		grammar.Each(s.Target, look.expr) && grammar.Each(s.Exprs, look.expr) && grammar.Each(s.Bodies, body) &&
-		grammar.Each(s.Block, block) && grammar.Each(s.Query, look.Query) && grammar.Each(s.Change, look.Change)
+		list.Each(s.Target, look.expr) && list.Each(s.Exprs, look.expr) && list.Each(s.Bodies, body) &&
+		list.Each(s.Block, block) && list.Each(s.Query, look.Query) && list.Each(s.Change, look.Change)
 }
 
 func (look Looker) sub(s *api.Sub) bool { return look(Part{Sub: s}) && look.Block(&s.Block, 1) }
 
-func (look Looker) trigger(g *api.Trigger) bool { return grammar.Each(g.When, look.expr) }
+func (look Looker) trigger(g *api.Trigger) bool { return list.Each(g.When, look.expr) }
 
 // Unit shows the parts of a unit.
 func (look Looker) Unit(u *api.Unit) bool {
-	return grammar.Each(u.Decls, look.decl) && grammar.Each(u.On, look.trigger) && grammar.Each(u.Subs, look.sub)
+	return list.Each(u.Decls, look.decl) && list.Each(u.On, look.trigger) && list.Each(u.Subs, look.sub)
 }
 
 func (look Looker) table(t *api.Table) bool {
-	column := func(c *api.Column) bool { return grammar.Each(c.Default, look.expr) }
-	constraint := func(c *api.Constraint) bool { return grammar.Each(c.Expr, look.expr) }
-	return grammar.Each(t.Cols, column) && grammar.Each(t.Cons, constraint)
+	column := func(c *api.Column) bool { return list.Each(c.Default, look.expr) }
+	constraint := func(c *api.Constraint) bool { return list.Each(c.Expr, look.expr) }
+	return list.Each(t.Cols, column) && list.Each(t.Cons, constraint)
 }
 
 // Object shows the parts of an object.
 func (look Looker) Object(o *api.Object) bool {
-	return grammar.Each(o.Table, look.table) && grammar.Each(o.View, look.Query) && grammar.Each(o.Unit, look.Unit)
+	return list.Each(o.Table, look.table) && list.Each(o.View, look.Query) && list.Each(o.Unit, look.Unit)
 }

@@ -5,6 +5,7 @@ import (
 
 	"justiciar/api"
 	"justiciar/grammar"
+	"justiciar/list"
 	"justiciar/part"
 )
 
@@ -60,7 +61,7 @@ func flawOfItem(x *Item) api.Errno {
 		return flawOfDef(&x.Def[0])
 	}
 	return flawOf(true, func(look part.Looker) bool {
-		return grammar.Each(x.Query, look.Query) && grammar.Each(x.Change, look.Change)
+		return list.Each(x.Query, look.Query) && list.Each(x.Change, look.Change)
 	})
 }
 
@@ -111,7 +112,7 @@ func rightSub(s *api.Sub) bool {
 		ret = isBase(s.Ret.Base) && !s.Ret.Array
 	}
 	return ret && grammar.IsPosition(s.Line, s.Col) && grammar.IsName(&s.Name) &&
-		len(s.Params) <= api.MaxParams && grammar.Each(s.Params, rightParam) && rightBlock(&s.Block)
+		len(s.Params) <= api.MaxParams && list.Each(s.Params, rightParam) && rightBlock(&s.Block)
 }
 
 func rightParam(p *api.Param) bool {
@@ -138,7 +139,7 @@ func isOfTrigger(s *api.Sub, name string) bool {
 }
 
 func rightTrigger(g *api.Trigger) bool {
-	return isAmong(len(g.Events), api.MaxCols) && grammar.Each(g.Events, rightEvent) && grammar.IsPath(g.On, 2) &&
+	return isAmong(len(g.Events), api.MaxCols) && list.Each(g.Events, rightEvent) && grammar.IsPath(g.On, 2) &&
 		len(g.When) <= 1 && (g.Each || len(g.When) == 0)
 }
 

@@ -3,6 +3,7 @@ package unit
 import (
 	"justiciar/api"
 	"justiciar/grammar"
+	"justiciar/list"
 )
 
 // How much an object may have.
@@ -114,7 +115,7 @@ func areKeys(l []string) bool {
 // areDifferent reports whether a closure finds a different name for each element of a list.
 func areDifferent[T any](l []T, nameOf func(x *T) string) bool {
 	seen := map[string]bool{}
-	return grammar.Each(l, func(x *T) bool {
+	return list.Each(l, func(x *T) bool {
 		name := nameOf(x)
 		first := !seen[name]
 		seen[name] = true
@@ -123,9 +124,9 @@ func areDifferent[T any](l []T, nameOf func(x *T) string) bool {
 }
 
 func rightTable(t *api.Table) bool {
-	return isAmong(len(t.Cols), api.MaxCols) && grammar.Each(t.Cols, rightColumn) && areDifferent(t.Cols, func(c *api.Column) string { return c.Name }) &&
+	return isAmong(len(t.Cols), api.MaxCols) && list.Each(t.Cols, rightColumn) && areDifferent(t.Cols, func(c *api.Column) string { return c.Name }) &&
 		len(t.Cons) <= maxCons && areDifferent(t.Cons, func(c *api.Constraint) string { return c.Name }) && hasOnePrimary(t) &&
-		grammar.Each(t.Cons, func(c *api.Constraint) bool { return grammar.IsName(&c.Name) && rightConstraint(c, t) })
+		list.Each(t.Cons, func(c *api.Constraint) bool { return grammar.IsName(&c.Name) && rightConstraint(c, t) })
 }
 
 func rightColumn(c *api.Column) bool {
@@ -135,7 +136,7 @@ func rightColumn(c *api.Column) bool {
 // hasOnePrimary reports whether a table has no second primary key.
 func hasOnePrimary(t *api.Table) bool {
 	count := 0
-	return grammar.Each(t.Cons, func(c *api.Constraint) bool {
+	return list.Each(t.Cons, func(c *api.Constraint) bool {
 		if c.Op == api.KPrimary {
 			count++
 		}
@@ -158,7 +159,7 @@ func rightConstraint(c *api.Constraint, t *api.Table) bool {
 
 // hasAll reports whether a table has all columns.
 func hasAll(t *api.Table, cols []string) bool {
-	return grammar.Each(cols, func(name *string) bool {
-		return !grammar.Each(t.Cols, func(c *api.Column) bool { return c.Name != *name })
+	return list.Each(cols, func(name *string) bool {
+		return !list.Each(t.Cols, func(c *api.Column) bool { return c.Name != *name })
 	})
 }

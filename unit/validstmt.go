@@ -3,6 +3,7 @@ package unit
 import (
 	"justiciar/api"
 	"justiciar/grammar"
+	"justiciar/list"
 )
 
 // rightStmt reports whether a statement has what its Op wants, and nothing else, whatever the parts within it are. What has been looked at is emptied: then all the rest has to be empty, too.
@@ -37,7 +38,7 @@ func rightBodies(s *api.Stmt) bool {
 	default:
 		return true
 	}
-	ok = ok && grammar.Each(s.Bodies, func(l *[]api.Stmt) bool { return len(*l) <= maxRow })
+	ok = ok && list.Each(s.Bodies, func(l *[]api.Stmt) bool { return len(*l) <= maxRow })
 	s.Exprs, s.Bodies = nil, nil
 	return ok
 }
@@ -85,7 +86,7 @@ func rightParts(s *api.Stmt) bool {
 
 // rightTargets reports whether there are targets, and not too many; whether they are valid as expressions is asked elsewhere.
 func rightTargets(l []api.Expr, most int) bool {
-	return isAmong(len(l), most) && grammar.Each(l, func(e *api.Expr) bool {
+	return isAmong(len(l), most) && list.Each(l, func(e *api.Expr) bool {
 		switch e.Op {
 		case api.EName:
 			return e.Text == "" || len(e.Path) == 2 && e.Path[0] == "new"
