@@ -4,6 +4,7 @@ import (
 	"slices"
 
 	"justiciar/api"
+	"justiciar/image"
 	"justiciar/list"
 	"justiciar/object"
 	"justiciar/resolve"
@@ -43,7 +44,7 @@ func sourcesOf(c *api.Catalog, user string, binds []api.Bind, q api.Query) ([]so
 // sourcesAt returns the sources of a query, if an image is valid. ErrArg may mean that the catalog is not: then the image cannot be held against it.
 func sourcesAt(c *api.Catalog, user string, binds []api.Bind, q api.Query, m *api.Image) ([]source, api.Errno) {
 	l, code := sourcesOf(c, user, binds, q)
-	if code != api.ErrArg && !isImage(c, m) {
+	if code != api.ErrArg && !image.Valid(c, m) {
 		return nil, api.ErrArg
 	}
 	return l, code
@@ -86,13 +87,7 @@ func (s source) find(w api.Way) int {
 }
 
 // rows returns the rows that an image has of the source.
-func (s source) rows(m *api.Image) []api.Held {
-	i := slices.IndexFunc(m.Tables, func(one api.Stored) bool { return keyOf(&one) == s.key })
-	if i < 0 {
-		return nil
-	}
-	return m.Tables[i].Rows
-}
+func (s source) rows(m *api.Image) []api.Held { return image.Rows(m, s.key) }
 
 // best returns the way with the least cost.
 func (s source) best(m *api.Image) api.Way {

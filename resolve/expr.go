@@ -4,9 +4,9 @@ import (
 	"cmp"
 	"strings"
 
+	"justiciar/aggregate"
 	"justiciar/api"
 	"justiciar/kind"
-	"justiciar/value"
 )
 
 // place is where an expression stands, with the errors of what must not stand there.
@@ -69,19 +69,15 @@ func (r *resolver) expr(e *api.Expr, p place) api.Kind {
 
 // ofKids returns the place of an expression's Kids.
 func (p place) ofKids(e *api.Expr) place {
-	if isAggregate(e) && p.aggregate == api.OK {
+	if aggregate.Is(e) && p.aggregate == api.OK {
 		p.aggregate = api.ErrGroup
 	}
 	return p
 }
 
-func isAggregate(e *api.Expr) bool {
-	return e.Op == api.EStar || e.Op == api.ECall && len(e.Path) == 1 && value.IsAggregate(e.Path[0])
-}
-
 // call returns the kind of what a function or an aggregate gives.
 func call(e *api.Expr, kids []api.Kind, p place) api.Kind {
-	if isAggregate(e) {
+	if aggregate.Is(e) {
 		want(p.aggregate == api.OK, exprFault{p.aggregate, e})
 	}
 	if e.Op == api.EStar {

@@ -4,6 +4,7 @@ import (
 	"cmp"
 	"slices"
 
+	"justiciar/aggregate"
 	"justiciar/api"
 	"justiciar/expr"
 )
@@ -23,7 +24,7 @@ func (r *resolver) query(q *api.Query, around *scope) []api.Named {
 	}
 	wantBools(q.Where, where)
 	wantBools(q.Having, having)
-	grouped := isGrouped(q)
+	grouped := aggregate.Groups(q)
 	if grouped {
 		wantGroups(q)
 	}
@@ -103,20 +104,10 @@ func resultsOf(q *api.Query) []*api.Expr {
 	return exprsOf(&results)
 }
 
-// isGrouped reports whether rows of a query's result are groups of rows.
-func isGrouped(q *api.Query) bool {
-	return len(q.Group) > 0 || len(q.Having) > 0 || slices.ContainsFunc(resultsOf(q), hasAggregate)
-}
-
-// hasAggregate reports whether there is an aggregate in an expression, but not within a query in it.
-func hasAggregate(e *api.Expr) bool {
-	return isAggregate(e) || slices.ContainsFunc(e.Kids, func(kid api.Expr) bool { return hasAggregate(&kid) })
-}
-
 // wantGroups raises a fault at the first column that need not be the same in all rows of a group.
 func wantGroups(q *api.Query) {
 	for _, e := range resultsOf(q) {
-		wantOfGroup(e, 0, func(e *api.Expr) bool { return isAggregate(e) || hasSame(q.Group, e) })
+		wantOfGroup(e, 0, func(e *api.Expr) bool { return aggregate.Is(e) || hasSame(q.Group, e) })
 	}
 }
 
