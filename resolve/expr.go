@@ -1,7 +1,6 @@
 package resolve
 
 import (
-	"cmp"
 	"strings"
 
 	"justiciar/aggregate"
@@ -44,27 +43,16 @@ func (r *resolver) values(l []api.Expr, p place, kinds ...api.Kind) {
 func (r *resolver) expr(e *api.Expr, p place) api.Kind {
 	kids := r.exprs(e.Kids, p.ofKids(e))
 	switch e.Op {
-	case api.EConst:
-		return e.Val.Kind
 	case api.EName:
 		return r.name(e, p.scope)
-	case api.EUnary, api.EBinary:
-		k, code := kind.Operation(e.Text, kids...)
-		want(code == api.OK, exprFault{code, e})
-		return k
-	case api.ENull:
-		return api.VBool
-	case api.EIn, api.EBetween:
-		alike(e.Kids, kids, func(int) bool { return true })
-		return api.VBool
-	case api.ECase:
-		return choice(e.Kids, kids)
 	case api.ECall, api.EStar:
 		return call(e, kids, p)
 	case api.EQuery, api.EExists:
 		return r.inner(e, p)
 	}
-	panic(exprFault{api.ErrKind, e}) // an EMark
+	k, at, code := kind.Of(e, kids)
+	want(code == api.OK, exprFault{code, at})
+	return k
 }
 
 // ofKids returns the place of an expression's Kids.
@@ -86,27 +74,6 @@ func call(e *api.Expr, kids []api.Kind, p place) api.Kind {
 	k, code := kind.Call(strings.Join(e.Path, "."), kids...)
 	want(code == api.OK, exprFault{code, e})
 	return k
-}
-
-// choice returns the kind of what a case gives, of its Kids: these are conditions, each with what is given then, and perhaps one more, that is given else.
-func choice(l []api.Expr, kinds []api.Kind) api.Kind {
-	isCondition := func(i int) bool { return i%2 == 0 && i < len(l)-1 }
-	for i, k := range kinds {
-		want(!isCondition(i) || kind.Fit(k, api.VBool), exprFault{api.ErrType, &l[i]})
-	}
-	return alike(l, kinds, func(i int) bool { return !isCondition(i) })
-}
-
-// alike returns the one kind of the expressions that a closure wants.
-func alike(l []api.Expr, kinds []api.Kind, wanted func(i int) bool) api.Kind {
-	common := api.VNull
-	for i, k := range kinds {
-		if wanted(i) {
-			want(kind.Fit(k, common), exprFault{api.ErrType, &l[i]})
-			common = cmp.Or(common, k)
-		}
-	}
-	return common
 }
 
 // inner settles the names in the query of an expression, and returns the kind of the expression.

@@ -4,6 +4,7 @@ import (
 	"strings"
 
 	"justiciar/api"
+	"justiciar/fault"
 	"justiciar/kind"
 )
 
@@ -44,7 +45,7 @@ func settled[T any](x T, find func(x *T)) (found T, f api.Fault) {
 func faultOf(raised any) api.Fault {
 	switch x := raised.(type) {
 	case exprFault:
-		return api.Fault{Code: x.code, Name: nameOf(x.at), Line: x.at.Line, Col: x.at.Col}
+		return fault.Expr(x.code, x.at)
 	case sourceFault:
 		return api.Fault{Code: x.code, Name: strings.Join(x.at.Path, "."), Line: x.at.Line, Col: x.at.Col}
 	case queryFault:
@@ -56,21 +57,10 @@ func faultOf(raised any) api.Fault {
 	}
 }
 
-// nameOf returns the name of a fault at an expression: that of a name, a function or an operation; of all others nothing.
-func nameOf(e *api.Expr) string {
-	switch {
-	case e.Op == api.EStar:
-		return "count"
-	case len(e.Path) > 0:
-		return strings.Join(e.Path, ".")
-	}
-	return e.Text
-}
-
 // want raises a fault, unless something is as it should be.
-func want(ok bool, fault any) {
+func want(ok bool, raised any) {
 	if !ok {
-		panic(fault)
+		panic(raised)
 	}
 }
 
